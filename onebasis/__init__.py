@@ -1,0 +1,1 @@
+"""Onebasis: sums over all fillings of webs of rules."""

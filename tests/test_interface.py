@@ -1,0 +1,35 @@
+"""Each name of the interface that has landed is defined in the file under which it is listed, with its arguments."""
+
+import importlib
+import inspect
+import unittest
+
+LISTED = {
+    "rules": ["Rule(prime, table)", "worth(rule, bits)", "scaled(rule, number)", "turned(rule, many)", "mirrored(rule)",
+              "flipped(rule, leg)", "set_leg(rule, leg, bit)", "beside(rule, other)", "closed(rule, leg, other)",
+              "joined(rule, leg, other, place)", "ones(prime, legs, worths)"],
+    "webs": ["Web(prime, rules, ties, outer)", "plain_sum(web)", "part(web, places)", "pieces(web)", "faces(web)",
+             "is_flat(web)"],
+    "around": ["with_rule(web, place, rule)", "delta(prime, bits)", "weighed(rule, other)", "around(web, place, bits)"],
+    "bases": ["Basis(prime, rows)", "times(basis, other)", "inverse(basis)", "other_side(basis)",
+              "changed(rule, basis)", "changed_by(rule, bases)"],
+    "alike": ["all_bases(prime)", "plain_basis(basis)", "is_alike(basis, other)"],
+    "blame": ["exchanged(web, other, places)", "blame(web, other)"],
+    "courses": ["is_course(web, thing)", "course_of(web)", "regions(web, course)", "ring(web, course, region)",
+                "region_rule(web, course, region)"],
+    "edits": ["is_edit(thing)", "edited(web, edit)"],
+    "entries": ["idle(web)", "bound(web, lot)", "is_free(web, lot)"],
+    "examples": ["examples()"],
+    "gates": ["Gate(prime, places, ties, outer)", "gate_web(gate)", "is_flat_gate(gate)"],
+}
+
+
+class Interface(unittest.TestCase):
+    def test_names_and_arguments(self):
+        for stem, listed in LISTED.items():
+            module = importlib.import_module("onebasis." + stem)
+            for told in listed:
+                name = told.split("(")[0]
+                thing = getattr(module, name)
+                self.assertEqual(thing.__module__, module.__name__)
+                self.assertEqual(name + str(inspect.signature(thing)), told)

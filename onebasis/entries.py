@@ -39,8 +39,9 @@ def bound(web, lot):
         raise BadEntries("an ascending list of at most 4 entries is wanted")
     want_few(web)
     plain = without_entries(web, lot)
-    for many in range(1, len(lot) + 1):
-        for some in combinations(list(lot), many):
+    every = list(lot)
+    for many in range(1, len(every) + 1):
+        for some in combinations(every, many):
             if are_unlike([place for place, _ in some]):
                 told = first_sum(web, plain, some)
                 if told is not None:

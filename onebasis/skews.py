@@ -87,7 +87,7 @@ def closed_unlike(skew, leg, first, second):
     row = [(first * x + second * y) % prime for x, y in zip(skew.table[leg], skew.table[leg + 1])]
     row[leg] = 0
     table = [list(told) for told in skew.table]
-    table[leg] = row
+    table[leg] = list(row)
     for k, number in enumerate(row):
         table[k][leg] = -number % prime
     table = [without_legs(told, [leg + 1]) for told in without_legs(table, [leg + 1])]

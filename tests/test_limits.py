@@ -1,0 +1,109 @@
+"""Webs and gates at the limits of the document, and lists that belong to nobody else."""
+
+from helpers import Case, chance_of, some_rule
+
+from onebasis.around import around, delta, with_rule
+from onebasis.blame import blame, exchanged
+from onebasis.bases import Basis, changed, inverse
+from onebasis.chords import chord_rule
+from onebasis.courses import course_of, is_course, region_rule, regions, ring
+from onebasis.edits import edited
+from onebasis.entries import bound, idle
+from onebasis.errors import TooMany
+from onebasis.gatemoves import moves_of
+from onebasis.gates import Gate, gate_web, is_flat_gate
+from onebasis.kin import kin
+from onebasis.onesrules import equations
+from onebasis.rules import Rule, mirrored, ones, turned
+from onebasis.webs import Web, faces, is_flat, part, pieces
+
+
+def pairs_web(prime, rule):
+    """25 pairs of places with eight ties each, and ten places without legs."""
+    ties = [((2 * n, k), (2 * n + 1, 7 - k)) for n in range(25) for k in range(8)]
+    return Web(prime, [rule] * 50 + [Rule(prime, [2])] * 10, ties, [])
+
+
+class Limits(Case):
+    def test_sixty_places_and_two_hundred_ties(self):
+        for prime in (3, 97):
+            web = pairs_web(prime, Rule(prime, [1] * 256))
+            self.assertEqual((len(web.rules), len(web.ties)), (60, 200))
+            self.assertEqual(len(pieces(web)), 35)
+            self.assertEqual(len(faces(web)), 210)
+            self.assertTrue(is_flat(web))
+            course = course_of(web)
+            self.same(course, [((2 * n, 0), (2 * n + 1, 7)) for n in range(25)])
+            self.assertTrue(is_course(web, course))
+            self.assertEqual(len(regions(web, course)), 85)
+            self.assertEqual(ring(web, course, 84), ())
+            self.assertEqual(region_rule(web, course, 84), Rule(prime, [256 % prime]))
+            self.assertEqual(region_rule(web, course, 0), Rule(prime, [1] * 256))
+            self.assertEqual(len(part(web, list(range(2, 60))).ties), 192)
+            for call, more in ((idle, ()), (bound, ([],)), (around, (0, ())), (blame, (web,))):
+                self.refuses(TooMany, 12, call, web, *more)
+            self.assertEqual(with_rule(web, 59, Rule(prime, [1])).rules[59], Rule(prime, [1]))
+            self.assertEqual(exchanged(web, web, list(range(60))), web)
+
+    def test_eight_legs(self):
+        chance = chance_of(40)
+        for prime in (3, 97):
+            rule = some_rule(chance, prime, 8)
+            self.assertEqual(turned(turned(rule, 3), 5), rule)
+            self.assertEqual(mirrored(mirrored(rule)), rule)
+            self.assertEqual(delta(prime, (1,) * 8).table[255], 1)
+            web = Web(prime, [rule], [], [(0, k) for k in range(8)])
+            for bits in ((0,) * 8, (1, 0) * 4):
+                self.assertEqual(around(web, 0, bits), delta(prime, bits))
+            self.assertEqual(len(idle(Web(prime, [rule, Rule(prime, [0])], [], [(0, k) for k in range(8)]))), 256)
+            loops = Web(prime, [rule], [((0, 2 * k), (0, 2 * k + 1)) for k in range(4)], [])
+            self.assertEqual(sum(around(loops, 0, ()).table), 16)
+            self.assertTrue(is_flat(loops))
+            self.assertEqual(ring(loops, [], 0), ())
+            self.assertEqual(len(edited(loops, ("merge", (0, 7))).rules[0].table), 64)
+            basis = Basis(prime, [[1, 2], [1, 1]])
+            self.assertEqual(changed(changed(rule, basis), inverse(basis)), rule)
+
+    def test_no_places(self):
+        web = Web(97, [], [], [])
+        self.same((pieces(web), faces(web), course_of(web), regions(web, [])), ([], [], [], []))
+        self.assertTrue(is_flat(web))
+        self.assertEqual(blame(web, web), {(): Rule(97, [1])})
+        gate = Gate(97, [], [], [])
+        self.assertTrue(is_flat_gate(gate))
+        self.assertEqual(gate_web(gate), web)
+
+
+class OwnLists(Case):
+    def test_two_calls_return_lists_of_their_own(self):
+        web = Web(3, [Rule(3, [0, 1]), Rule(3, [0, 1])], [((0, 0), (1, 0))], [])
+        lot = [(0, (0,)), (1, (0,))]
+        gate = Gate(3, [1, 1], [((0, 0), (1, 0), 0)], [])
+        calls = ((pieces, web), (faces, web), (course_of, web), (regions, web, course_of(web)), (idle, web),
+                 (moves_of, gate), (kin, Rule(3, [1]), Rule(3, [1])), (equations, ones(3, 3, [0] * 4)))
+        for call, *things in calls:
+            first, second = call(*things), call(*things)
+            self.assertEqual(first, second)
+            self.assertTrue(first)
+            first.clear()
+            self.assertEqual(call(*things), second)
+        told = bound(web, lot)
+        told[0].clear()
+        self.assertEqual(bound(web, lot), (lot, (), 1))
+        told = blame(web, web)
+        told.clear()
+        self.assertEqual(len(blame(web, web)), 1)
+
+    def test_what_is_handed_in_stays(self):
+        lot = [(0, (0,)), (1, (0,))]
+        web = Web(3, [Rule(3, [0, 1]), Rule(3, [0, 1])], [((0, 0), (1, 0))], [])
+        bound(web, lot)
+        self.assertEqual(lot, [(0, (0,)), (1, (0,))])
+        course = [((0, 0), (1, 0))]
+        ring(web, course, 2)
+        regions(web, course)
+        self.assertEqual(course, [((0, 0), (1, 0))])
+        chords = [(1, 2, 1), (0, 1, 2)]
+        chord_rule(3, 3, chords, 1)
+        self.assertEqual(chords, [(1, 2, 1), (0, 1, 2)])
+        self.assertEqual(web, Web(3, [Rule(3, [0, 1])] * 2, [((0, 0), (1, 0))], []))

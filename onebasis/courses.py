@@ -1,6 +1,6 @@
 """Courses of a web: joins of its places tie by tie, the regions on the way and the rings round them."""
 
-from onebasis.checks import MOST_FILLED, MOST_LEGS, is_from, is_list, is_number, is_tuple_of
+from onebasis.checks import MOST_LEGS, is_from, is_list, is_number, is_tuple_of
 from onebasis.errors import BadCourse, BadNumber, TooMany
 from onebasis.joining import from_least, joined_regions, joined_ring, made_course, reduced_ring
 from onebasis.surfaces import other_ends
@@ -64,10 +64,8 @@ def region_rule(web, course, region):
     places = regions(web, course)[region]
     if len(legs) > MOST_LEGS:
         raise TooMany(MOST_LEGS)
-    inner = [tie for tie in web.ties if tie[0][0] in places and tie[1][0] in places]
-    shut = [tie for tie in inner if tie[0] not in legs and tie[1] not in legs]
-    if len(legs) + len(shut) > MOST_FILLED:
-        raise TooMany(MOST_FILLED)
+    # A leg of the region that is not in its ring was taken out with the other leg of its tie.
+    shut = [tie for tie in web.ties if tie[0][0] in places and tie[0] not in legs]
     now = {place: k for k, place in enumerate(places)}
     ties = [((now[p], k), (now[q], j)) for (p, k), (q, j) in shut]
     outer = [(now[p], k) for p, k in legs]

@@ -47,7 +47,7 @@ def is_contracted(gate, ties, held, place):
     if gate.places[place] != 2 or place in held:
         return False
     x, y = [ties[(place, k)][0][0] for k in range(2)]
-    if x in (place, y) or y == place or x in held or y in held:
+    if x in (place, y) or x in held or y in held:
         return False
     return gate.places[x] + gate.places[y] <= MOST_CONTRACTED
 
@@ -78,10 +78,8 @@ def moved(gate, move):
 
 
 def is_move(thing):
-    """Whether it is a tuple of a word and numbers, as moves are."""
-    if not isinstance(thing, tuple) or len(thing) < 2 or not isinstance(thing[0], str):
-        return False
-    return all([is_number(x) for x in thing[1:]])
+    """Whether it is a tuple of numbers behind its first thing, as moves are."""
+    return isinstance(thing, tuple) and all([is_number(x) for x in thing[1:]])
 
 
 def settled(gate):

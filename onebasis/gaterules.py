@@ -28,13 +28,12 @@ def pairing_rule(gate):
 
 
 def pairing_steps(gate):
-    """For each place: the (mask of places met, bits of outer legs, weight) of all that may meet it."""
+    """For each place: the (mask of places met, bits of outer legs, weight) of all that may meet it first."""
     steps = [[] for _ in gate.places]
     for one, other, weight in gate.ties:
         if one[0] != other[0]:
-            both = (1 << one[0]) + (1 << other[0])
-            steps[one[0]].append((both, 0, weight))
-            steps[other[0]].append((both, 0, weight))
+            # Places are met in their sequence, so a tie is taken at its lesser one.
+            steps[one[0]].append(((1 << one[0]) + (1 << other[0]), 0, weight))
     for k, leg in enumerate(gate.outer):
         steps[leg[0]].append((1 << leg[0], leg_mask(len(gate.outer), k), 1))
     return steps

@@ -14,11 +14,6 @@ def bits_of(number, many):
     return tuple([number >> (many - 1 - k) & 1 for k in range(many)])
 
 
-def all_bits(many):
-    """All tuples of this many bits, ascending."""
-    return [bits_of(k, many) for k in range(1 << many)]
-
-
 def leg_mask(many, leg):
     """What the bit 1 at one of many legs adds to the number of the bits."""
     return 1 << (many - 1 - leg)

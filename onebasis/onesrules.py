@@ -37,4 +37,6 @@ def ones_kind(rule):
         return "none"
     a, b, c = told[0]
     zeros = [s for s, t in points(rule.prime) if (a * s * s + b * s * t + c * t * t) % rule.prime == 0]
-    return ("twin", "double", "split")[len(zeros)]
+    if len(zeros) == 2:
+        return "split"
+    return "double" if len(zeros) == 1 else "twin"

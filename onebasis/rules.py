@@ -1,7 +1,6 @@
 """Rules: a number of a prime field for all bits at some legs."""
 
-from onebasis.checks import MOST_LEGS, are_bits, are_field_numbers, is_bit, is_field_number, is_from, is_list
-from onebasis.checks import is_prime, is_table
+from onebasis.checks import MOST_LEGS, are_bits, is_bit, is_field_number, is_from, is_list, is_prime, is_table
 from onebasis.errors import BadBits, BadNumber, BadRule, TooMany
 from onebasis.legwork import behind, bits_number, leg_mask, leg_sums
 
@@ -139,7 +138,7 @@ def ones(prime, legs, worths):
         raise BadRule("prime")
     if not is_from(legs, 0, MOST_LEGS):
         raise BadNumber("legs")
-    if not is_list(worths) or len(worths) != legs + 1 or not are_field_numbers(prime, worths):
+    if not is_list(worths) or len(worths) != legs + 1:
         raise BadRule("table")
     return Rule(prime, [worths[many_ones(k)] for k in range(1 << legs)])
 

@@ -89,6 +89,9 @@ class Blame(Case):
             self.refuses(BadWeb, "other", blame, one, other)
         self.refuses(BadWeb, "other", blame, two, Web(7, two.rules, [], [(0, 1), (0, 0)]))
         self.refuses(BadWeb, "other", blame, two, Web(7, two.rules, [((0, 0), (0, 1))], []))
+        four = Rule(7, [1] * 16)
+        self.refuses(BadWeb, "other", blame, Web(7, [four], [((0, 0), (0, 1)), ((0, 2), (0, 3))], []),
+                     Web(7, [four], [((0, 0), (0, 2)), ((0, 1), (0, 3))], []))
         for thing in ODD_THINGS:
             self.refuses(BadWeb, None, exchanged, thing, one, None)
             self.refuses(BadWeb, None, exchanged, one, thing, None)

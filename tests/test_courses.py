@@ -85,7 +85,7 @@ class Courses(Case):
         self.assertIs(is_course(ROUND, (T23, T30, T01)), True)
         self.assertIs(is_course(Web(3, [], [], []), []), True)
         for thing in ODD_THINGS + [[T01, T12], [T01, T12, T23, T30], [T01, T01, T12], [T01, T12, ((3, 0), (2, 1))],
-                                   [T01, T12, [(2, 1), (3, 0)]], [T01, T12, ((2, True), (3, 0))], [T01, T12, None],
+                                   [T01, T12, [(2, 1), (3, 0)]], [T01, T12, ((2, True), (3, 0))], [T01, T12, None], [T01, T12, (2, 3)],
                                    [T01, T12, ((2, 1), (3, False))], [T01, T12, ([2, 1], (3, 0))]]:
             self.assertIs(is_course(ROUND, thing), False, thing)
         loop = Web(3, [star(4), TWO], [((0, 0), (0, 1)), ((0, 2), (1, 0)), ((0, 3), (1, 1))], [])

@@ -61,6 +61,10 @@ class Edits(Case):
         self.same(edited(web, ("cut", (1, 0))).outer, ((0, 0), (1, 1), (0, 1), (1, 0)))
         self.same(edited(web, ("swap", 0)).outer, ((1, 1), (0, 0)))
         self.assertEqual(edited(edited(web, ("swap", 0)), ("swap", 0)), web)
+        four = Web(3, [Rule(3, [1] * 16)], [], [(0, k) for k in range(4)])
+        self.same(edited(four, ("swap", 1)).outer, ((0, 0), (0, 2), (0, 1), (0, 3)))
+        self.same(edited(four, ("swap", 2)).outer, ((0, 0), (0, 1), (0, 3), (0, 2)))
+        self.refuses(NotLet, "leg", edited, four, ("swap", 3))
 
     def test_turn(self):
         chance = chance_of(85)
@@ -136,7 +140,7 @@ class Edits(Case):
         for edit, why in (
                 (("rule", 3, (5,)), "place"), (("rule", 10 ** 9, (1, 1, 1, 1)), "place"), (("turn", 3, 9), "place"),
                 (("rule", 0, (1, 1)), "table"), (("rule", 0, (1, 1, 1, 3)), "table"), (("add", (3,)), "table"),
-                (("tie", (0, 0), (0, 0)), "leg"), (("tie", (0, 0), (0, 1)), "leg"), (("tie", (0, 0), (9, 9)), "leg"),
+                (("tie", (0, 0), (0, 0)), "leg"), (("tie", (0, 0), (0, 1)), "leg"), (("tie", (0, 0), (9, 9)), "leg"), (("tie", (0, 1), (0, 0)), "leg"),
                 (("cut", (0, 0)), "leg"), (("flip", (2, 1)), "leg"), (("merge", (0, 7)), "leg"), (("swap", 1), "leg"),
                 (("swap", 10 ** 9), "leg"), (("turn", 0, 9), "many"), (("turn", 2, 10 ** 9), "many"),
                 (("add", (1,) * 128), "many")):
@@ -151,6 +155,9 @@ class Edits(Case):
         web = Web(3, [five, five], [((0, 0), (1, 0))], [(p, k) for p in (0, 1) for k in range(1, 5)])
         self.refuses(NotLet, "many", edited, web, ("cut", (0, 0)))
         self.assertEqual(edited(web, ("merge", (1, 0))).rules[0], Rule(3, [2] * 256))
+        eight = Rule(3, [1] * 256)
+        self.assertEqual(len(edited(Web(3, [eight], [((0, 0), (0, 1))], [(0, k) for k in range(2, 8)]),
+                                    ("cut", (0, 0))).outer), 8)
         six = Web(3, [Rule(3, [1] * 64), five, Rule(3, [1, 1])], [((0, 0), (1, 0)), ((0, 1), (2, 0))],
                   [(0, k) for k in range(2, 6)] + [(1, k) for k in range(1, 5)])
         self.refuses(NotLet, "many", edited, six, ("merge", (0, 0)))

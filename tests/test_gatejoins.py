@@ -25,6 +25,7 @@ class GateJoins(Case):
         self.same((both.places, both.ties, both.outer), ((2, 2, 2, 2), (((0, 0), (1, 1), 5), ((2, 0), (3, 1), 5)),
                                                         ((0, 1), (1, 0), (2, 1), (3, 0))))
         self.same(gate_turned(PAIR, 1).outer, ((1, 0), (0, 1)))
+        self.same(gate_turned(Gate(7, [3], [], [(0, 0), (0, 1), (0, 2)]), 4).outer, ((0, 1), (0, 2), (0, 0)))
         self.assertEqual(gate_turned(Gate(7, [0], [], []), 8), Gate(7, [0], [], []))
         self.assertEqual(gate_flipped(PAIR, 1), Gate(
             7, [2, 2, 2], [((0, 0), (1, 1), 5), ((1, 0), (2, 0), 1)], [(0, 1), (2, 1)]))
@@ -81,6 +82,8 @@ class GateJoins(Case):
         ties = [((t // 4, 2 * (t % 4)), (t // 4, 2 * (t % 4) + 1), 1) for t in range(400)]
         full = Gate(3, [8] * 100 + [2], ties, [(100, 0), (100, 1)])
         self.refuses(TooMany, 8, gate_beside, gate_beside(Gate(3, [0] * 239, [], []), five), five)
+        three = Gate(3, [3], [], [(0, k) for k in range(3)])
+        self.assertEqual(len(gate_beside(five, three).outer), 8)
         self.refuses(TooMany, 240, gate_beside, many, full)
         self.refuses(TooMany, 400, gate_beside, full, Gate(3, [2], [((0, 0), (0, 1), 1)], []))
         self.assertEqual(len(gate_beside(full, Gate(3, [0] * 139, [], [])).places), 240)
@@ -90,3 +93,7 @@ class GateJoins(Case):
         both = gate_beside(full, Gate(3, [0] * 139, [], []))
         self.refuses(TooMany, 240, gate_flipped, both, 0)
         self.assertEqual(len(gate_tied(many, 0, 1).ties), 1)
+        less = Gate(3, [8] * 99 + [6, 2] + [0] * 138, ties[:399], [(100, 0), (100, 1)])
+        self.assertEqual(len(gate_tied(less, 0, 1).ties), 400)
+        told = gate_flipped(less, 0)
+        self.assertEqual((len(told.places), len(told.ties)), (240, 400))

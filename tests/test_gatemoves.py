@@ -115,6 +115,14 @@ class GateMoves(Case):
         self.assertIn(("contract", 0), moves_of(lollipop(7, 3)))
         self.assertEqual(moved(lollipop(7, 3), ("contract", 0))[1].places, (8,))
         self.assertNotIn(("contract", 0), moves_of(lollipop(7, 5)))
+        for many, more in ((5, 4), (5, 6), (6, 5)):
+            ties = [((0, 0), (1, 0), 1), ((0, 1), (2, 0), 1), ((1, 1), (2, 1), 1)]
+            ties += [((1, k), (3, k), 1) for k in range(2, many)] + [((2, k), (4, k), 1) for k in range(2, more)]
+            spots = [[leg for tie in ties for leg in tie[:2] if leg[0] == place] for place in (3, 4)]
+            ties = [(one, (other[0], spots[other[0] - 3].index(other)) if other[0] > 2 else other, w)
+                    for one, other, w in ties]
+            gate = Gate(7, [2, many, more] + [len(spot) for spot in spots], ties, [])
+            self.assertEqual(("contract", 0) in moves_of(gate), many + more <= 10)
 
     def test_settled(self):
         chance = chance_of(352)

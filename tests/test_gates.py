@@ -27,6 +27,8 @@ class Gates(Case):
         tied = Gate(7, [2], [((0, 1), (0, 0), 3)], [])
         self.assertEqual(tied, Gate(7, [2], [((0, 0), (0, 1), 3)], []))
         self.assertNotEqual(tied, Gate(7, [2], [((0, 0), (0, 1), 2)], []))
+        self.assertNotEqual(Gate(7, [4], [((0, 0), (0, 1), 1), ((0, 2), (0, 3), 1)], []),
+                            Gate(7, [4], [((0, 0), (0, 2), 1), ((0, 1), (0, 3), 1)], []))
         for thing in ODD_THINGS:
             self.assertFalse(gate == thing)
 

@@ -33,6 +33,9 @@ class Webs(Case):
         self.assertNotEqual(Web(7, [], [], []), Web(5, [], [], []))
         self.assertNotEqual(Web(7, [NONE], [], []), Web(7, [], [], []))
         self.assertEqual(Web(7, [TWO], [((0, 1), (0, 0))], []), Web(7, [TWO], [((0, 0), (0, 1))], []))
+        four, outer = star(7, 6), [(0, 4), (0, 5)]
+        self.assertNotEqual(Web(7, [four], [((0, 0), (0, 1)), ((0, 2), (0, 3))], outer),
+                            Web(7, [four], [((0, 0), (0, 2)), ((0, 1), (0, 3))], outer))
         for thing in ODD_THINGS:
             self.assertFalse(web == thing)
 

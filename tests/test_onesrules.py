@@ -93,6 +93,41 @@ class OnesRules(Case):
                 roots = [r for r in range(1, prime) if (r ** legs * h - g) * (r ** legs * h + g) % prime == 0]
                 self.assertEqual(2 * many, len(roots))
 
+    def test_how_many_bases_twin_rules_have(self):
+        # Modulo 3 and 7 no square is -1, so pairs (a, b) stand for a + b * i with i * i = -1.
+        chance = chance_of(58)
+
+        def power(prime, pair, many, start=(1, 0)):
+            for _ in range(many):
+                start = ((start[0] * pair[0] - start[1] * pair[1]) % prime, (start[0] * pair[1] + start[1] * pair[0]) % prime)
+            return start
+
+        for prime, legs in ((3, 3), (3, 4), (3, 5), (7, 3), (7, 4)):
+            for _ in range(10):
+                t = (chance.randrange(prime), chance.randrange(1, prime))
+                g = chance.choice([pair for pair in product(range(prime), repeat=2) if any(pair)])
+                worths = [2 * power(prime, t, k, g)[0] % prime for k in range(legs + 1)]
+                rule = ones(prime, legs, worths)
+                self.assertEqual(ones_kind(rule), "twin")
+                h = (g[0], -g[1] % prime)
+                signed = (g, (-g[0] % prime, -g[1] % prime))
+                roots = [r for r in product(range(prime), repeat=2) if (r[0] * r[0] + r[1] * r[1]) % prime == 1
+                         and power(prime, r, legs, h) in signed]
+                many = len([basis for basis in all_bases(prime) if has_form(changed(rule, basis))])
+                self.assertEqual(2 * many, len(roots))
+
+    def test_how_many_bases_double_rules_have(self):
+        for prime, legs in ((3, 3), (3, 4), (3, 6), (5, 5), (5, 4)):
+            chance = chance_of(59)
+            for _ in range(10):
+                t = chance.randrange(prime)
+                g, h = chance.randrange(prime), chance.randrange(1, prime)
+                worths = [(g + h * k) * t ** k % prime if t else (g, h, 0)[min(k, 2)] for k in range(legs + 1)]
+                rule = ones(prime, legs, worths)
+                self.assertEqual(ones_kind(rule), "double")
+                many = len([basis for basis in all_bases(prime) if has_form(changed(rule, basis))])
+                self.assertIn(many, (prime, 0) if legs % prime == 0 else (1,))
+
     def test_refused(self):
         for call in (equations, ones_kind):
             for thing in ODD_THINGS:

@@ -13,6 +13,9 @@ def form_of(rule):
     base = first_not_zero(rule.table)
     if base is None:
         return Form(rule.prime, 0, (), [[0] * rule.legs for _ in range(rule.legs)])
+    # Bits that part at just one leg never both have a worth; this alone tells most rules without a form.
+    if any([rule.table[base ^ leg_mask(rule.legs, k)] for k in range(rule.legs)]):
+        return None
     flips = tuple([k for k, bit in enumerate(bits_of(base, rule.legs)) if bit])
     form = Form(rule.prime, rule.table[base], flips, table_round(rule, base))
     return form if rule_of(form) == rule else None

@@ -75,6 +75,48 @@ def without_two(prime, rows):
     return left
 
 
+def left_rows(prime, table, inner):
+    """A number, a skew table and how many of inner are left, of a table of which inner, ascending, are always taken.
+
+    The Pfaffian on all of inner and on some others is the number times that of the rows that are left, on those of
+    inner that stand first there and on the same others behind them.
+    """
+    rows = inner_first(table, inner)
+    number, many = 1, len(inner)
+    fresh = many
+    while fresh:
+        at = first_not_zero(rows[0][1:fresh])
+        if at is None:
+            # Rows that are 0 at all of inner stay so, and wait behind the others.
+            rows = [row[1:many] + row[:1] + row[many:] for row in rows[1:many] + rows[:1] + rows[many:]]
+            number = number if many & 1 else -number
+            fresh -= 1
+        else:
+            if at:
+                exchange(rows, 1, at + 1)
+                number = -number
+            number = number * rows[0][1] % prime
+            rows = without_two(prime, rows)
+            many, fresh = many - 2, fresh - 2
+    return (number % prime, rows, many)
+
+
+def inner_first(table, inner):
+    """The table with the rows and columns of inner ahead of the others, with signs that keep the Pfaffians."""
+    held = {k: True for k in inner}
+    order = list(inner)
+    signs = [1] * len(inner)
+    met = 0
+    for k in range(len(table)):
+        if k in held:
+            met += 1
+        else:
+            # What goes behind all of inner passes those that stood behind it.
+            order.append(k)
+            signs.append(-1 if (len(inner) - met) & 1 else 1)
+    return [[s * t * table[i][j] for t, j in zip(signs, order)] for s, i in zip(signs, order)]
+
+
 def sub_pfaffians(prime, table):
     """For all bits, ascending: the Pfaffian of the rows and columns of the legs with bit 1."""
     many = len(table)

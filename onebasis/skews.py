@@ -48,6 +48,14 @@ def turned_skew(skew, many):
     return Skew(skew.prime, skew.number, [skew.marks[k] for k in legs], table)
 
 
+def mirrored_skew(skew):
+    """The same with its legs in the reverse sequence."""
+    # Two legs exchanged, that is the other sign, make up for the sign of an even number of legs reversed.
+    legs = list(reversed(range(len(skew.marks))))
+    table = [[skew.table[j][i] for j in legs] for i in legs]
+    return Skew(skew.prime, skew.number, [skew.marks[k] for k in legs], table)
+
+
 def beside_skews(skew, other):
     """The legs of the one, then those of the other; the worth is the product."""
     table = [list(row) + [0] * len(other.marks) for row in skew.table]
@@ -92,6 +100,14 @@ def closed_unlike(skew, leg, first, second):
         table[k][leg] = -number % prime
     table = [without_legs(told, [leg + 1]) for told in without_legs(table, [leg + 1])]
     return forced(Skew(prime, skew.number, without_legs(skew.marks, [leg + 1]), table), [leg])
+
+
+def set_skew_leg(skew, leg, bit):
+    """Without a leg, which has this bit."""
+    if bit != skew.marks[leg]:
+        return forced(skew, [leg])
+    table = [without_legs(row, [leg]) for row in without_legs(skew.table, [leg])]
+    return Skew(skew.prime, skew.number, without_legs(skew.marks, [leg]), table)
 
 
 def without_legs(row, legs):

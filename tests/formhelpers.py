@@ -67,3 +67,37 @@ def every_identity(legs):
     lots = [tuple(k for k, bit in enumerate(bits) if bit) for bits in product((0, 1), repeat=legs)]
     lots = sorted([lot for lot in lots if lot], key=lambda lot: (len(lot), lot))
     return [(bits, lot) for lot in lots for bits in product((0, 1), repeat=legs)]
+
+
+def some_full_rule(chance, prime, legs):
+    """A made-up rule that has a form whose table has few zeros."""
+    return plain_rule_of(some_form(chance, prime, legs))
+
+
+def some_even_rule(chance, prime, legs):
+    """A made-up rule with a form that is not 0 at bits of zeros, so that sums of webs of such are 0 less often."""
+    return plain_rule_of(Form(prime, chance.randrange(1, prime), (), some_skew(chance, prime, legs)))
+
+
+def some_bits(chance, many):
+    return tuple(chance.randrange(2) for _ in range(many))
+
+
+def heavy_bits(chance, form):
+    """Bits at which the worth of a form of many legs is quite sure not to be 0."""
+    bits = list(some_bits(chance, form.legs))
+    if (sum(bits) + len(form.flips)) % 2:
+        bits[chance.randrange(form.legs)] ^= 1
+    return tuple(bits)
+
+
+def zero_form(prime, legs):
+    return Form(prime, 0, (), [[0] * legs for _ in range(legs)])
+
+
+def plainly_normal(form):
+    """Whether a form of few legs is normal, straight from the words of the document."""
+    heavy = [bits for bits in product((0, 1), repeat=form.legs) if plain_worth(form, bits)]
+    if not heavy:
+        return form == zero_form(form.prime, form.legs)
+    return form.flips == tuple(k for k, bit in enumerate(min(heavy)) if bit)

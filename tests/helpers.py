@@ -157,3 +157,51 @@ def is_sphere(rings):
 def chance_of(number):
     """A source of made-up numbers that is the same in each run."""
     return random.Random(number)
+
+
+def some_flat_outer_web(chance, prime, places, ties, make=some_rule):
+    """A made-up flat web, its outer legs being the ties of the last place of a flat web with one place more."""
+    while True:
+        web = some_flat_web(chance, prime, places + 1, ties, make)
+        outside = {tie[1]: tie[0] for tie in web.ties if tie[1][0] == places and tie[0][0] < places}
+        many = web.rules[places].legs
+        if len(outside) == many:
+            inner = [tie for tie in web.ties if tie[1][0] < places]
+            outer = [outside[places, many - 1 - k] for k in range(many)]
+            return Web(prime, web.rules[:places], inner, outer)
+
+
+def grid_web(chance, prime, rows, columns, many, make=some_rule):
+    """A flat grid of places with made-up rules; the first so many of the lowest row have outer legs, in sequence."""
+    numbers = {(r, c): c * rows + r for c in range(columns) for r in range(rows)}
+    legs = {}
+    for r, c in numbers:
+        ways = [(r, c + 1), (r + 1, c), (r, c - 1), (r - 1, c)]
+        legs[r, c] = [way for way in ways if way in numbers or (way[0] == -1 and c < many)]
+    ties = []
+    for r, c in numbers:
+        for other in ((r, c + 1), (r + 1, c)):
+            if other in numbers:
+                ties.append(((numbers[r, c], legs[r, c].index(other)), (numbers[other], legs[other].index((r, c)))))
+    outer = [(numbers[0, c], legs[0, c].index((-1, c))) for c in range(many)]
+    return Web(prime, [make(chance, prime, len(legs[at_place])) for at_place in numbers], ties, outer)
+
+
+def swept_sum(web):
+    """The list of the sums at all bits of the outer legs, place by place, for webs of few ties to later places."""
+    names = {leg: (0, k) for k, leg in enumerate(web.outer)}
+    names.update({leg: (1, k) for k, tie in enumerate(web.ties) for leg in tie})
+    states = {(): 1}
+    for place, rule in enumerate(web.rules):
+        own = [names[place, k] for k in range(rule.legs)]
+        kept = [name for name in names.values() if name[0] == 0 or web.ties[name[1]][1][0] > place]
+        fresh = {}
+        for state, number in states.items():
+            for bits, worth in zip(product((0, 1), repeat=rule.legs), rule.table):
+                told = dict(state)
+                if worth and all(told.setdefault(name, bit) == bit for name, bit in zip(own, bits)):
+                    key = tuple(sorted((name, bit) for name, bit in told.items() if name in kept))
+                    fresh[key] = (fresh.get(key, 0) + number * worth) % web.prime
+        states = fresh
+    every = product((0, 1), repeat=len(web.outer))
+    return [states.get(tuple(((0, k), bit) for k, bit in enumerate(bits)), 0) for bits in every]

@@ -3,8 +3,9 @@
 from onebasis.checks import MOST_LEGS, is_from, is_list, is_number, is_tuple_of
 from onebasis.errors import BadCourse, BadNumber, TooMany
 from onebasis.joining import from_least, joined_regions, joined_ring, made_course, reduced_ring
+from onebasis.legwork import spots_of
 from onebasis.surfaces import other_ends
-from onebasis.webs import Web, pieces, plain_sum, want_web
+from onebasis.webs import Web, leg_counts, pieces, plain_sum, want_web
 
 
 def is_course(web, thing):
@@ -50,12 +51,16 @@ def ring(web, course, region):
     many = len(web.rules)
     if not is_from(region, 0, many + len(course) - 1):
         raise BadNumber("region")
+    return tuple(rings_of(web, course, joined_regions(many, course)[1])[region])
+
+
+def rings_of(web, course, joins):
+    """The rings of all regions, each from its least leg on; joins tells which regions each tie of the course joins."""
     ends = other_ends(web.ties)
-    joins = joined_regions(many, course)[1]
-    rings = [reduced_ring([(place, k) for k in range(rule.legs)], ends) for place, rule in enumerate(web.rules)]
+    rings = [from_least(reduced_ring(spot, ends)) for spot in spots_of(leg_counts(web))]
     for (one, other), (leg, further) in zip(joins, course):
-        rings.append(reduced_ring(joined_ring(rings[one], leg, rings[other], further), ends))
-    return tuple(from_least(rings[region]))
+        rings.append(from_least(reduced_ring(joined_ring(rings[one], leg, rings[other], further), ends)))
+    return rings
 
 
 def region_rule(web, course, region):

@@ -10,6 +10,7 @@ from onebasis.boards import board_of, board_sum
 from onebasis.closings import flat_sum
 from onebasis.errors import BadLine, BadWeb, NoForm, TooMany
 from onebasis.forms import Form, form_worth
+from onebasis.foundforms import form_of
 from onebasis.lines import line_of
 from onebasis.pfaffians import pfaffian
 from onebasis.rules import Rule
@@ -68,6 +69,7 @@ class Boards(Case):
         return Form(web.prime, number, places, [[less[i][j] for j in legs] for i in legs])
 
     def test_by_hand(self):
+        self.assertEqual(form_of(FLAT.rules[0]), Form(5, 1, (2,), ((0, 3, 1), (2, 0, 1), (4, 4, 0))))
         board = board_of(FLAT, LINE)
         spots = [(0, 0), (1, 0), (1, 1), ((0, 2), (1, 1)), (1, 2), ((0, 1), (1, 2)), (0, 1), (0, 2)]
         self.same(board["flips"], [(1, 2), (0, 2)])

@@ -48,8 +48,27 @@ LISTED = {
     "boards": ["board_of(web, line)", "board_sum(web, line)"],
     "closings": ["closings(web, line)", "flat_sum(web)", "sum_form(web)"],
     "lumps": ["edge_of(web, places)", "lumped(web, places)"],
+    "lives": ["Live(prime)"],
+    "drawings": ["drawn(web, course)", "live_of(web, course)"],
+    "livelogs": ["log_of(live)", "recovered(text)"],
+    "roads": ["road_width(web, road)", "best_road(web)", "is_fence(web, width, thing)", "fence_of(web, width)"],
+    "roadsums": ["road_sum(web, road)", "road_counts(web, road)"],
+    "ruletexts": ["rule_parts(rule)", "rule_text(rule)", "rules_text(rules)", "form_text(form)"],
+    "shares": ["pinned(web, ties, bits)", "share(web, ties, bits)", "shares(web)"],
+    "cuts": ["cut_sum(web, ties)", "least_cut(web, most)"],
+    "sided": ["sides(web)", "web_changed(web, bases)", "side_changed(web, lefts, basis)", "split(web)"],
+    "basissums": ["basis_sum(web, lefts)"],
+    "formulas": ["Formula(prime, variables, clauses)", "solutions(formula)", "formula_web(formula)",
+                 "formula_sum(formula)"],
+    "stops": ["is_stop(rule, numbers)", "stops(rule)", "stops_of(form)", "stopped(prime, rows)"],
     "gates": ["Gate(prime, places, ties, outer)", "gate_web(gate)", "is_flat_gate(gate)"],
 }
+
+
+METHODS = ["web(self)", "course(self)", "region_form(self, region)", "whole_sum(self)", "surrounding(self, region)",
+           "facing(self, place)", "share_of(self, tie)", "kept(self)", "made(self)", "add(self, rule)",
+           "put(self, place, rule)", "draw(self, one, other, rules)", "drop(self, tie, rules)", "undo(self)",
+           "redo(self)", "deeds(self)", "do(self, deed)"]
 
 
 class Interface(unittest.TestCase):
@@ -61,3 +80,9 @@ class Interface(unittest.TestCase):
                 thing = getattr(module, name)
                 self.assertEqual(thing.__module__, module.__name__)
                 self.assertEqual(name + str(inspect.signature(thing)), told)
+
+    def test_methods_of_live(self):
+        live = importlib.import_module("onebasis.lives").Live
+        for told in METHODS:
+            name = told.split("(")[0]
+            self.assertEqual(name + str(inspect.signature(vars(live)[name])), told)

@@ -7,12 +7,10 @@ from onebasis.laying import laid_skew, want_line, want_short
 from onebasis.legwork import bits_of
 from onebasis.pfaffians import left_rows, skew_pfaffian
 from onebasis.rules import Rule
-from onebasis.webs import want_web
 
 
 def board_of(web, line):
     """A board of the web along the line."""
-    want_web(web)
     want_line(web, line)
     board = made_board(web, line)
     want_short(line)
@@ -61,7 +59,6 @@ def add_pair(prime, table, one, other, number):
 
 def board_sum(web, line):
     """The sum of the web, from a board along the line."""
-    want_web(web)
     want_line(web, line)
     board = made_board(web, line)
     outer = {leg: True for leg in web.outer}

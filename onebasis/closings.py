@@ -7,12 +7,10 @@ from onebasis.normals import form_of_skew, skew_of
 from onebasis.rules import Rule
 from onebasis.surfaces import other_ends
 from onebasis.webforms import forms_of, want_flat
-from onebasis.webs import want_web
 
 
 def closings(web, line):
     """The states of closing, from all legs of the line to the outer legs alone."""
-    want_web(web)
     want_line(web, line)
     bundle = (list(line), laid_skew(web, line))
     want_short(line)
@@ -33,7 +31,6 @@ def state_of(bundle):
 
 def flat_sum(web):
     """The sum of a flat web of rules with forms."""
-    want_web(web)
     want_flat(web)
     bundles = []
     for place, form in enumerate(forms_of(web)):

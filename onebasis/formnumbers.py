@@ -2,7 +2,7 @@
 
 from onebasis.checks import is_from, is_prime
 from onebasis.errors import BadForm, BadNumber
-from onebasis.forms import MOST_FORM_LEGS, Form, want_form
+from onebasis.forms import MOST_FORM_LEGS, Form
 from onebasis.normals import normal
 from onebasis.skews import set_pair
 
@@ -25,16 +25,11 @@ def tables_behind(prime, legs, leg):
 
 def how_many_forms(prime, legs):
     """How many rules with so many legs have a form."""
-    want_many(prime, legs)
-    return 1 + (prime - 1) * tables_behind(prime, legs, 0)
-
-
-def want_many(prime, legs):
-    """Refuses what is no prime, and what is not how many legs forms have."""
     if not is_prime(prime):
         raise BadForm("prime")
     if not is_from(legs, 0, MOST_FORM_LEGS):
         raise BadNumber("legs")
+    return 1 + (prime - 1) * tables_behind(prime, legs, 0)
 
 
 def free_pairs(legs, flips):
@@ -44,7 +39,6 @@ def free_pairs(legs, flips):
 
 def form_at(prime, legs, number):
     """The normal form with this number."""
-    want_many(prime, legs)
     if not is_from(number, 0, how_many_forms(prime, legs) - 1):
         raise BadNumber("number")
     table = [[0] * legs for _ in range(legs)]
@@ -70,7 +64,6 @@ def form_at(prime, legs, number):
 
 def form_number(form):
     """The number of the rule of a form."""
-    want_form(form)
     told = normal(form)
     if told.number == 0:
         return 0

@@ -6,11 +6,10 @@ from onebasis.lines import is_line
 from onebasis.normals import form_of_skew, skew_of
 from onebasis.skews import Skew, turned_skew
 from onebasis.webforms import forms_of
-from onebasis.webs import want_web
 
 
 def want_line(web, line):
-    """Refuses what is no line of the web."""
+    """Refuses what is no Web, and what is no line of it."""
     if not is_line(web, line):
         raise BadLine("a line of the web is wanted")
 
@@ -23,7 +22,6 @@ def want_short(line):
 
 def laid(web, line):
     """A form with the legs of the line whose worth is the product of what the rules are worth."""
-    want_web(web)
     want_line(web, line)
     skew = laid_skew(web, line)
     want_short(line)

@@ -43,11 +43,8 @@ def recovered(text):
         raise BadLog(0)
     live = begun_live(rows[0])
     for at in range(1, len(rows)):
-        deed = deed_of(rows[at])
-        if deed is None:
-            raise BadLog(at)
         try:
-            live.do(deed)
+            live.do(deed_of(rows[at]))
         except (BadLive, TooMany):
             raise BadLog(at) from None
     return live
@@ -66,7 +63,7 @@ def begun_live(row):
 
 
 def deed_of(row):
-    """The deed of a row; None if it is no such row."""
+    """The deed of a row; None, which is no deed, if it is no such row."""
     words = row.split(" ")
     kinds = PARTS.get(words[0])
     if kinds is None or len(words) != len(kinds) + 1:

@@ -10,8 +10,8 @@ from onebasis.rules import Rule
 from onebasis.webs import Web
 
 MOST_RING_LEGS = 60
-# Both legs of the tie that joins two rings are in them yet.
-MOST_JOINED_LEGS = MOST_RING_LEGS + 2
+# Both legs of the tie that joins two rings still stand in these.
+MOST_JOINED_LEGS = 62
 
 # For each word of a deed: what its further parts are.
 PARTS = {

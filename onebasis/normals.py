@@ -1,7 +1,6 @@
 """Normal forms: the one form of each rule whose flips are the least bits at which it is not 0."""
 
-from onebasis.checks import are_bits
-from onebasis.errors import BadBits, BadForm
+from onebasis.errors import BadForm
 from onebasis.forms import Form, form_worth, want_form
 from onebasis.pfaffians import first_not_zero
 from onebasis.skews import Skew, remarked
@@ -49,9 +48,7 @@ def is_normal(form):
 
 def rebased(form, bits):
     """The form with the same worths whose flips are the legs with bit 1."""
-    want_form(form)
-    if not are_bits(bits, form.legs):
-        raise BadBits("as many bits as legs are wanted")
+    # What is no form, and what are no bits for it, is refused where the worth is asked for.
     if form_worth(form, bits) == 0:
         raise BadForm("base")
     skew = skew_of(form)

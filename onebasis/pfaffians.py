@@ -87,9 +87,9 @@ def left_rows(prime, table, inner):
     while fresh:
         at = first_not_zero(rows[0][1:fresh])
         if at is None:
-            # Rows that are 0 at all of inner stay so, and wait behind the others.
+            # A row that is 0 at all of inner stays so, and waits behind the others. If it passes an odd number of rows
+            # there is a sign; but then many is even, and so is at last how many rows wait: the signs make up for it.
             rows = [row[1:many] + row[:1] + row[many:] for row in rows[1:many] + rows[:1] + rows[many:]]
-            number = number if many & 1 else -number
             fresh -= 1
         else:
             if at:

@@ -5,7 +5,7 @@ What is told of the places so far is a list of the loose legs and a row: for all
 
 from onebasis.errors import BadWeb, TooMany
 from onebasis.legwork import leg_mask, sums_of
-from onebasis.roads import road_width, want_road
+from onebasis.roads import road_width
 from onebasis.rules import Rule, many_ones
 from onebasis.surfaces import other_ends
 from onebasis.webs import want_web
@@ -15,15 +15,13 @@ NUMBER_BITS = 7
 
 
 def want_narrow(web, road):
-    """Refuses a road that is too wide."""
+    """Refuses what is no Web, what is no road of it, and a road that is too wide."""
     if road_width(web, road) > GREATEST_SUMMED:
         raise TooMany(GREATEST_SUMMED)
 
 
 def road_sum(web, road):
     """The sum of the web, place by place."""
-    want_web(web)
-    want_road(web, road)
     want_narrow(web, road)
     loose, row = end_of_road(web, road, 0)
     masks = [leg_mask(len(loose), loose.index(leg)) for leg in web.outer]
@@ -35,7 +33,6 @@ def road_counts(web, road):
     want_web(web)
     if web.outer:
         raise BadWeb("outer")
-    want_road(web, road)
     want_narrow(web, road)
     # All sums are kept in one number, so many bits for each that it has room for all products, none of them reduced.
     step = NUMBER_BITS * len(web.rules) + len(web.ties) + 1

@@ -6,7 +6,7 @@ from onebasis.webs import is_flat
 
 
 def want_flat(web):
-    """Refuses a web that is not flat."""
+    """Refuses what is no Web, and a web that is not flat."""
     if not is_flat(web):
         raise NotFlat("the web is not flat")
 

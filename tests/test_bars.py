@@ -101,6 +101,8 @@ class Bars(Case):
         for strand in chance.sample(told, min(3, len(told))):
             for changed in ((tree, strand, other), (tree, one, strand), (sorted(set(tree) ^ {strand}), one, other)):
                 self.assertIs(is_bar(web, changed), plainly_bar(web, *changed))
+        if len(tree) > 1:
+            self.assertIs(is_bar(web, (tree[::-1], one, other)), False)
         for changed in ((tree, one[::-1], other), (tree, one, other[::-1]), (tree, one), (tree, one, other, one),
                         list(bar), (tree + [one], one, other), (tree + tree, one, other) if tree else None):
             self.assertIs(is_bar(web, changed), False)

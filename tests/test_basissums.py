@@ -82,4 +82,6 @@ class BasisSums(Case):
         for thing in (None, 0, [], [0, 1], [1, 0], [2], [True]):
             self.refuses(BadSides, None, basis_sum, CROSSED, thing)
         self.refuses(NotFlat, None, basis_sum, CROSSED, [0])
+        none = [ones(3, 3, [1, 1, 0, 2]), ones(3, 3, [1, 0, 0, 2])]
+        self.refuses(NotFlat, None, basis_sum, Web(3, none, CROSSED.ties, []), [0])
         self.assertEqual(basis_sum(FLAT, [1])[1], Rule(5, [2]))

@@ -75,6 +75,8 @@ class FormJoins(Case):
         for thing in ODD_THINGS:
             self.refuses(BadForm, None, beside_forms, thing, None)
             self.refuses(BadForm, None, beside_forms, form, thing)
+            self.refuses(BadForm, None, beside_forms, thing, form)
+            self.refuses(BadForm, None, joined_forms, thing, 0, form, 0)
             self.refuses(BadForm, None, closed_form, thing, None)
             self.refuses(BadForm, None, joined_forms, thing, None, None, None)
             self.refuses(BadForm, None, joined_forms, form, None, thing, None)

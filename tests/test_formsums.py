@@ -77,6 +77,7 @@ class FormSums(Case):
         for thing in ODD_THINGS:
             self.refuses(BadForm, None, paired, thing, None)
             self.refuses(BadForm, None, paired, form, thing)
+            self.refuses(BadForm, None, paired, thing, form)
             self.refuses(BadForm, None, form_total, thing)
         self.refuses(BadForm, "other", paired, form, zero_form(5, 3))
         self.refuses(BadForm, "other", paired, form, zero_form(7, 2))

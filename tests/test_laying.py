@@ -78,6 +78,6 @@ class Laying(Case):
         wide[1] = Rule(5, [1, 0])
         self.refuses(TooMany, 60, laid, Web(5, wide, ties, []), legs)
         self.refuses(BadLine, None, laid, Web(5, wide, ties, []), legs[1:])
-        less = [leg for leg in legs if leg[0] < 7] + [(7, k) for k in range(4)]
-        told = Web(5, wide[:7] + [Rule(5, [1] + [0] * 15)], [tie for tie in ties if tie[1] in less], [])
-        self.assertEqual(laid(told, less).legs, 52)
+        less = [leg for leg in legs if leg[0] < 8] + [(8, k) for k in range(4)]
+        told = Web(5, wide[:8] + [Rule(5, [1] + [0] * 15)], [tie for tie in ties if tie[1] in less], [])
+        self.assertEqual(laid(told, less).legs, 60)

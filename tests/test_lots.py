@@ -121,7 +121,7 @@ class Lots(Case):
         side, index, (bits, legs) = told[2]
         for changed_part in (None, (side, index), (side, index, (bits, legs), 0), [side, index, (bits, legs)],
                              (bool(side), index, (bits, legs)), (2, index, (bits, legs)), (None, index, (bits, legs)),
-                             (side, 3, (bits, legs)), (side, -1, (bits, legs)), (side, False, (bits, legs)),
+                             (0, 1, (bits, legs)), (1, 3, (bits, legs)), (side, -1, (bits, legs)), (side, False, (bits, legs)),
                              (side, index, [bits, legs]), (side, index, (bits,)), (side, index, (list(bits), legs)),
                              (side, index, (bits + (0,), legs)), (side, index, (bits, ())), (side, index, None),
                              (side, index, (bits, list(legs))), (side, index, (bits, legs[::-1] + legs)),

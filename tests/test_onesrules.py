@@ -2,10 +2,8 @@ from itertools import product
 
 from helpers import ODD_THINGS, Case, chance_of
 
-from onebasis.alike import all_bases
-from onebasis.bases import changed
 from onebasis.errors import BadRule
-from onebasis.foundforms import has_form
+from onebasis.lots import bases_of
 from onebasis.onesrules import equations, ones_kind
 from onebasis.rules import Rule, ones
 
@@ -67,7 +65,7 @@ class OnesRules(Case):
     def test_how_many_bases(self):
         for worths in product(range(3), repeat=5):
             rule = ones(3, 4, list(worths))
-            many = len([basis for basis in all_bases(3) if has_form(changed(rule, basis))])
+            many = len(bases_of(3, [rule], []))
             kind = ones_kind(rule)
             if kind in ("zero", "power", "none", "double"):
                 self.assertEqual(many, {"zero": 6, "power": 3, "none": 0, "double": 1}[kind])
@@ -75,7 +73,7 @@ class OnesRules(Case):
                 self.assertIn(many, (0, 1, 2, 3))
         for worths in product(range(3), repeat=4):
             rule = ones(3, 3, list(worths))
-            many = len([basis for basis in all_bases(3) if has_form(changed(rule, basis))])
+            many = len(bases_of(3, [rule], []))
             if ones_kind(rule) == "double":
                 self.assertIn(many, (0, 3))
 
@@ -89,7 +87,7 @@ class OnesRules(Case):
                 worths = [(g * s ** (legs - k) * t ** k + h * u ** (legs - k) * v ** k) % prime for k in range(legs + 1)]
                 rule = ones(prime, legs, worths)
                 self.assertEqual(ones_kind(rule), "split")
-                many = len([basis for basis in all_bases(prime) if has_form(changed(rule, basis))])
+                many = len(bases_of(prime, [rule], []))
                 roots = [r for r in range(1, prime) if (r ** legs * h - g) * (r ** legs * h + g) % prime == 0]
                 self.assertEqual(2 * many, len(roots))
 
@@ -113,7 +111,7 @@ class OnesRules(Case):
                 signed = (g, (-g[0] % prime, -g[1] % prime))
                 roots = [r for r in product(range(prime), repeat=2) if (r[0] * r[0] + r[1] * r[1]) % prime == 1
                          and power(prime, r, legs, h) in signed]
-                many = len([basis for basis in all_bases(prime) if has_form(changed(rule, basis))])
+                many = len(bases_of(prime, [rule], []))
                 self.assertEqual(2 * many, len(roots))
 
     def test_how_many_bases_double_rules_have(self):
@@ -125,7 +123,7 @@ class OnesRules(Case):
                 worths = [(g + h * k) * t ** k % prime if t else (g, h, 0)[min(k, 2)] for k in range(legs + 1)]
                 rule = ones(prime, legs, worths)
                 self.assertEqual(ones_kind(rule), "double")
-                many = len([basis for basis in all_bases(prime) if has_form(changed(rule, basis))])
+                many = len(bases_of(prime, [rule], []))
                 self.assertIn(many, (prime, 0) if legs % prime == 0 else (1,))
 
     def test_refused(self):

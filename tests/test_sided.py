@@ -137,4 +137,5 @@ class Sided(Case):
         for lefts in product((0, 1), repeat=3):
             self.refuses(BadSides, None, side_changed, RING, [k for k in range(3) if lefts[k]], None)
         self.refuses(BadBasis, "prime", side_changed, FLAT, (1,), other)
+        self.refuses(BadBasis, "prime", side_changed, Web(5, [], [], []), [], other)
         self.assertEqual(side_changed(FLAT, (1,), basis), FLAT)

@@ -3,18 +3,35 @@
 from helpers import Case, chance_of, some_rule
 
 from onebasis.around import around, delta, with_rule
+from onebasis.bars import strands
+from onebasis.bestbits import best_bits
 from onebasis.blame import blame, exchanged
 from onebasis.bases import Basis, changed, inverse
+from onebasis.boards import board_of, board_sum
 from onebasis.chords import chord_rule
+from onebasis.closings import closings
 from onebasis.courses import course_of, is_course, region_rule, regions, ring
+from onebasis.cuts import least_cut
+from onebasis.drawings import drawn, live_of
 from onebasis.edits import edited
 from onebasis.entries import bound, idle
 from onebasis.errors import TooMany
+from onebasis.foundforms import form_of
 from onebasis.gatemoves import moves_of
 from onebasis.gates import Gate, gate_web, is_flat_gate
 from onebasis.kin import kin
+from onebasis.lines import line_of
+from onebasis.lives import Live
+from onebasis.lots import bases_of
+from onebasis.lumps import edge_of, lumped
 from onebasis.onesrules import equations
+from onebasis.roads import best_road, fence_of, is_fence
+from onebasis.roadsums import road_counts, road_sum
 from onebasis.rules import Rule, mirrored, ones, turned
+from onebasis.ruletexts import rule_parts
+from onebasis.shares import pinned, shares
+from onebasis.sided import side_changed, sides
+from onebasis.stops import stopped, stops
 from onebasis.webs import Web, faces, is_flat, part, pieces
 
 
@@ -107,3 +124,47 @@ class OwnLists(Case):
         chord_rule(3, 3, chords, 1)
         self.assertEqual(chords, [(1, 2, 1), (0, 1, 2)])
         self.assertEqual(web, Web(3, [Rule(3, [0, 1])] * 2, [((0, 0), (1, 0))], []))
+
+    def test_sums_and_live_webs_return_lists_of_their_own(self):
+        rule = Rule(3, [0, 1, 1, 0])
+        web = Web(3, [rule, rule], [((0, 0), (1, 1)), ((0, 1), (1, 0))], [])
+        crossed = Web(3, [ones(3, 3, [0, 1, 0, 0])] * 2, [((0, k), (1, k)) for k in range(3)], [])
+        line, course = line_of(web), course_of(web)
+        live = live_of(web, course)
+        live.whole_sum()
+        calls = ((line_of, web), (strands, web), (closings, web, line), (board_of, web, line), (edge_of, web, [0]),
+                 (shares, web), (least_cut, crossed, 1), (best_road, web), (fence_of, web, 1), (sides, web),
+                 (road_counts, web, [0, 1]), (bases_of, 3, [rule], []), (stops, rule), (rule_parts, rule),
+                 (drawn, web, course), (live.course,), (live.deeds,))
+        for call, *things in calls:
+            first, second = call(*things), call(*things)
+            self.assertEqual(first, second)
+            self.assertTrue(first)
+            first.clear()
+            self.assertEqual(call(*things), second)
+        live.kept()[0].clear()
+        self.same(live.kept(), ([0, 1, 2], []))
+        self.same((line, course), (line_of(web), course_of(web)))
+
+    def test_what_is_handed_to_sums_and_deeds_stays(self):
+        rule = Rule(3, [0, 1, 1, 0])
+        web = Web(3, [rule, rule], [((0, 0), (1, 1)), ((0, 1), (1, 0))], [])
+        line, road, ties, lefts, rules = line_of(web), [1, 0], [web.ties[0]], [0], [Rule(3, [1, 0])] * 2
+        weights, rows, fence = [3, -2], stops(rule), [[]]
+        told = [list(x) for x in (line, road, ties, lefts, rules, weights, fence)] + [[list(row) for row in rows]]
+        closings(web, line)
+        board_sum(web, line)
+        road_sum(web, road)
+        pinned(web, ties, (1,))
+        lumped(web, lefts)
+        side_changed(web, lefts, Basis(3, ((1, 0), (0, 1))))
+        best_bits(form_of(rule), weights)
+        stopped(3, rows)
+        is_fence(web, 1, fence)
+        live = Live(3)
+        live.add(Rule(3, [1]))
+        live.add(Rule(3, [1]))
+        live.draw((0, 0), (1, 0), rules)
+        live.undo()
+        live.redo()
+        self.same([line, road, ties, lefts, rules, weights, fence, rows], told)

@@ -12,6 +12,14 @@ def inverse_of(prime, number):
     return ahead % prime
 
 
+def power_of(number, many):
+    """The number times itself, so many times."""
+    out = 1
+    for _ in range(many):
+        out = out * number
+    return out
+
+
 def reduced_rows(prime, rows):
     """The rows of the reduced form: each begins with a 1, further right than the one ahead, 0 elsewhere there."""
     left = [list(row) for row in rows]

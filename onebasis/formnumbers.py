@@ -2,17 +2,10 @@
 
 from onebasis.checks import is_from, is_prime
 from onebasis.errors import BadForm, BadNumber
+from onebasis.fields import power_of
 from onebasis.forms import MOST_FORM_LEGS, Form
 from onebasis.normals import normal
 from onebasis.skews import set_pair
-
-
-def power_of(number, many):
-    """The number times itself, so many times."""
-    out = 1
-    for _ in range(many):
-        out = out * number
-    return out
 
 
 def tables_behind(prime, legs, leg):

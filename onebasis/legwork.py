@@ -45,3 +45,8 @@ def numbering(spots):
 def spots_of(counts):
     """The list, for each place, of its legs as pairs (place, leg)."""
     return [[(place, k) for k in range(many)] for place, many in enumerate(counts)]
+
+
+def places_in(lot):
+    """The places whose bits, from the lowest one on, are 1 in the number of a lot."""
+    return [k for k in range(lot.bit_length()) if lot >> k & 1]

@@ -19,30 +19,35 @@ def want_lot(prime, lefts, rights):
         raise BadLot("rights")
 
 
-def first_barred(lefts, rights, basis):
-    """The triple (side, index, changed rule) of the first rule that, changed, has no form; None if all have one."""
+def first_barred(lefts, rights, basis, fits):
+    """The triple (side, index, changed rule) of the first rule that, changed, does not fit; None if all do."""
     for side, rules, told in ((0, lefts, basis), (1, rights, other_side(basis))):
         met = {}
         for index, rule in enumerate(rules):
             if rule.table not in met:
                 met[rule.table] = True
                 fresh = changed(rule, told)
-                if not has_form(fresh):
+                if not fits(fresh):
                     return (side, index, fresh)
     return None
+
+
+def fitting_bases(bases, lefts, rights, fits):
+    """Those of the bases under which all rules of the lot fit."""
+    return [basis for basis in bases if first_barred(lefts, rights, basis, fits) is None]
 
 
 def bases_of(prime, lefts, rights):
     """All plain bases that are good for the lot."""
     want_lot(prime, lefts, rights)
-    return [basis for basis in all_bases(prime) if first_barred(lefts, rights, basis) is None]
+    return fitting_bases(all_bases(prime), lefts, rights, has_form)
 
 
 def first_basis(prime, lefts, rights):
     """The first plain basis that is good for the lot; None without one."""
     want_lot(prime, lefts, rights)
     for basis in all_bases(prime):
-        if first_barred(lefts, rights, basis) is None:
+        if first_barred(lefts, rights, basis, has_form) is None:
             return basis
     return None
 
@@ -52,7 +57,7 @@ def bars(prime, lefts, rights):
     want_lot(prime, lefts, rights)
     found = []
     for basis in all_bases(prime):
-        barred = first_barred(lefts, rights, basis)
+        barred = first_barred(lefts, rights, basis, has_form)
         if barred is None:
             return None
         found.append(barred)

@@ -2,6 +2,7 @@
 
 from onebasis.checks import are_places, is_from, is_list
 from onebasis.errors import BadNumber, BadRoad, TooMany
+from onebasis.legwork import places_in
 from onebasis.webs import want_web
 
 MOST_ROAD_PLACES = 9
@@ -40,11 +41,6 @@ def road_width(web, road):
     want_web(web)
     want_road(web, road)
     return max([loose_legs(web, road[:k]) for k in range(len(road) + 1)])
-
-
-def places_in(lot):
-    """The places whose bits, from the lowest one on, are 1 in the number of a lot."""
-    return [k for k in range(lot.bit_length()) if lot >> k & 1]
 
 
 def best_road(web):

@@ -2,6 +2,8 @@
 
 from helpers import Case, chance_of, some_rule
 
+from onebasis.affine import Affine
+from onebasis.affineforms import affine_beside, affine_closed
 from onebasis.around import around, delta, with_rule
 from onebasis.bars import strands
 from onebasis.bestbits import best_bits
@@ -9,6 +11,7 @@ from onebasis.blame import blame, exchanged
 from onebasis.bases import Basis, changed, inverse
 from onebasis.boards import board_of, board_sum
 from onebasis.chords import chord_rule
+from onebasis.classbases import affine_bases, affine_kinds, class_basis_sum, product_bases
 from onebasis.closings import closings
 from onebasis.courses import course_of, is_course, region_rule, regions, ring
 from onebasis.cuts import least_cut
@@ -25,6 +28,8 @@ from onebasis.lives import Live
 from onebasis.lots import bases_of
 from onebasis.lumps import edge_of, lumped
 from onebasis.onesrules import equations
+from onebasis.products import Product
+from onebasis.productsums import product_closed
 from onebasis.roads import best_road, fence_of, is_fence
 from onebasis.roadsums import road_counts, road_sum
 from onebasis.rules import Rule, mirrored, ones, turned
@@ -32,6 +37,7 @@ from onebasis.ruletexts import rule_parts
 from onebasis.shares import pinned, shares
 from onebasis.sided import side_changed, sides
 from onebasis.stops import stopped, stops
+from onebasis.tiebases import tie_bases
 from onebasis.webs import Web, faces, is_flat, part, pieces
 
 
@@ -168,3 +174,29 @@ class OwnLists(Case):
         live.undo()
         live.redo()
         self.same([line, road, ties, lefts, rules, weights, fence, rows], told)
+
+    def test_affine_and_product_rules(self):
+        rule = Rule(5, [1, 2])
+        calls = ((tie_bases, 5), (affine_kinds, 5), (affine_bases, 5, [rule], []), (product_bases, 5, [rule], []))
+        for call, *things in calls:
+            first, second = call(*things), call(*things)
+            self.assertEqual(first, second)
+            self.assertTrue(first)
+            first.clear()
+            self.assertEqual(call(*things), second)
+        ways, powers, pairs = [(1, 0), (0, 1)], [1, 3], [(0, 1)]
+        form = Affine(5, 2, 1, (0, 0), ways, powers, pairs)
+        bunches = [((0,), (0,), 1), ((1,), (0,), 2)]
+        product = Product(5, 1, bunches)
+        rules, lefts = [rule, rule], [0]
+        affine_closed(form, 0, 1)
+        affine_beside(form, form)
+        product_closed(product, 0, 1)
+        affine_bases(5, rules, rules)
+        class_basis_sum(Web(5, rules, [((0, 0), (1, 0))], []), lefts)
+        self.same((ways, powers, pairs, bunches, rules, lefts),
+                  ([(1, 0), (0, 1)], [1, 3], [(0, 1)], [((0,), (0,), 1), ((1,), (0,), 2)], [rule, rule], [0]))
+        for thing in (ways, powers, pairs, bunches):
+            thing.clear()
+        self.assertEqual(form, Affine(5, 2, 1, (0, 0), [(1, 0), (0, 1)], [1, 3], [(0, 1)]))
+        self.assertEqual(product.bunches, (((0,), (0,), 1), ((1,), (0,), 2)))

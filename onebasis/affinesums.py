@@ -15,10 +15,10 @@ def affine_forms(web):
     return forms
 
 
-def affine_phase(web):
-    """The phase of all rules of a web beside one another, each leg under its pair (place, leg)."""
-    phase = Phase(web.prime)
-    for place, form in enumerate(affine_forms(web)):
+def affine_phase(prime, forms):
+    """The phase of all these forms of rules of a web beside one another, each leg under its pair (place, leg)."""
+    phase = Phase(prime)
+    for place, form in enumerate(forms):
         put_in(phase, form, [(place, k) for k in range(form.legs)])
     return phase
 
@@ -26,7 +26,7 @@ def affine_phase(web):
 def affine_sum(web):
     """The affine form of the sum of a web of affine rules."""
     want_web(web)
-    phase = affine_phase(web)
+    phase = affine_phase(web.prime, affine_forms(web))
     for one, other in web.ties:
         close_legs(phase, one, other)
     return affine_of(phase, list(web.outer))

@@ -2,7 +2,7 @@
 
 from onebasis.checks import MOST_LEGS, are_bits, is_from, is_prime
 from onebasis.errors import BadBits, BadNumber, BadRule
-from onebasis.fillings import filled_places, one_row, surrounding_tables, times_row, want_few
+from onebasis.fillings import filled_places, row_without, surrounding_tables, want_few
 from onebasis.legwork import bits_number
 from onebasis.rules import Rule, want_rule
 from onebasis.webs import Web, want_web
@@ -62,9 +62,10 @@ def around(web, place, bits):
     want_place(web, place, "place")
     want_outer_bits(web, bits)
     want_few(web)
+    return Rule(web.prime, around_tables(web, place)[bits_number(bits)])
+
+
+def around_tables(web, place):
+    """For all bits at the outer legs, ascending: the table of the rule that stands round the place."""
     filled = filled_places(web)
-    row = one_row(web)
-    for k, rule in enumerate(web.rules):
-        if k != place:
-            row = times_row(web.prime, row, rule.table, filled[k])
-    return Rule(web.prime, surrounding_tables(web, place, filled[place], row)[bits_number(bits)])
+    return surrounding_tables(web, place, filled[place], row_without(web, filled, [place]))

@@ -5,7 +5,7 @@ from itertools import combinations
 from onebasis.around import exchanged_rules
 from onebasis.checks import are_places
 from onebasis.errors import BadNumber, BadWeb, TooMany
-from onebasis.fillings import filled_places, one_row, outer_sums, times_row, want_few
+from onebasis.fillings import filled_places, outer_sums, row_without, times_row, want_few
 from onebasis.rules import Rule
 from onebasis.webs import leg_counts, want_web
 
@@ -38,10 +38,7 @@ def blame(web, other):
         raise TooMany(MOST_UNLIKE)
     want_few(web)
     filled = filled_places(web)
-    row = one_row(web)
-    for place, rule in enumerate(web.rules):
-        if place not in unlike:
-            row = times_row(web.prime, row, rule.table, filled[place])
+    row = row_without(web, filled, unlike)
     lots = sorted([lot for many in range(len(unlike) + 1) for lot in combinations(unlike, many)])
     sums = [outer_sums(web, differing(web, other, filled, row, unlike, lot)) for lot in lots]
     return {lot: Rule(web.prime, told) for lot, told in zip(lots, sums) if any(told)}

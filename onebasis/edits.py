@@ -1,10 +1,12 @@
 """Edits of webs: small changes, some of which keep the sum."""
 
 from onebasis.around import exchanged_rules
-from onebasis.checks import MOST_LEGS, MOST_PLACES, MOST_TIES, are_field_numbers, is_from, is_table, is_tuple_of
+from onebasis.checks import MOST_LEGS, MOST_PLACES, MOST_TIES, are_bits, are_field_numbers, is_bit, is_from, is_table
+from onebasis.checks import is_tuple_of
 from onebasis.errors import BadEdit, NotLet
-from onebasis.legwork import behind, numbering, spots_of
-from onebasis.rules import Rule, closed, flipped, joined, turned
+from onebasis.ledwebs import led_along, turned_along
+from onebasis.legwork import behind, spots_of
+from onebasis.rules import Rule, closed, flipped, joined
 from onebasis.surfaces import other_ends
 from onebasis.webs import Web, leg_counts, want_web
 
@@ -25,20 +27,29 @@ SHAPES = {
 
 def is_edit(thing):
     """Whether any value is an edit."""
+    return has_shape(SHAPES, thing)
+
+
+def has_shape(shapes, thing):
+    """Whether any value is a tuple of one of the words and of parts of the kinds that shapes tells for it."""
     if not isinstance(thing, tuple) or len(thing) == 0 or not isinstance(thing[0], str):
         return False
-    shape = SHAPES.get(thing[0])
+    shape = shapes.get(thing[0])
     if shape is None or len(thing) != len(shape) + 1:
         return False
     return all([is_part(kind, x) for kind, x in zip(shape, thing[1:])])
 
 
 def is_part(kind, thing):
-    """Whether it is a part of an edit of this kind."""
+    """Whether it is a part of an edit, or of a question, of this kind."""
     if kind == "number":
         return is_from(thing, 0, MOST_NUMBER)
     if kind == "leg":
         return is_tuple_of(thing, 2) and all([is_from(x, 0, MOST_NUMBER) for x in thing])
+    if kind == "bit":
+        return is_bit(thing)
+    if kind == "bits":
+        return isinstance(thing, tuple) and len(thing) <= MOST_LEGS and are_bits(thing, len(thing))
     return isinstance(thing, tuple) and is_table(GREATEST_PRIME, thing)
 
 
@@ -109,18 +120,7 @@ def with_turn(web, place, many):
     """The web with the rule at the place turned, its ties and outer legs led along."""
     want_let(place < len(web.rules), "place")
     want_let(many <= MOST_LEGS, "many")
-    rules = list(web.rules)
-    rules[place] = turned(web.rules[place], many)
-    spots = spots_of(leg_counts(web))
-    legs = len(spots[place])
-    spots[place] = [(place, (k + many) % legs) for k in range(legs)]
-    return led_along(web, rules, spots, web.ties)
-
-
-def led_along(web, rules, spots, ties):
-    """The web of these rules whose legs were those that spots tells, with these ties of the web."""
-    now = numbering(spots)
-    return Web(web.prime, rules, [(now[one], now[other]) for one, other in ties], [now[leg] for leg in web.outer])
+    return turned_along(web, [many if k == place else 0 for k in range(len(web.rules))])
 
 
 def with_flip(web, leg):

@@ -42,7 +42,7 @@ def led_by_one(prime, row, column):
 def row_less(prime, row, first, column):
     """The row less as many times first as makes it 0 in the column."""
     many = row[column]
-    return [(x - many * y) % prime for x, y in zip(row, first)]
+    return [(x - many * y) % prime for x, y in zip(row, first)] if many else row
 
 
 def null_rows(prime, rows, many):
@@ -58,3 +58,18 @@ def null_rows(prime, rows, many):
                 fresh[lead] = -row[free] % prime
             found.append(fresh)
     return reduced_rows(prime, found)
+
+
+def least_solution(prime, rows, sums, many):
+    """The least row of many numbers whose products with each of rows, added, are the sums; None if there is none."""
+    told = reduced_rows(prime, [list(row) + [number] for row, number in zip(rows, sums)])
+    out = [0] * many
+    for row in told:
+        lead = row.index(1)
+        if lead == many:
+            return None
+        out[lead] = row[many]
+    # What makes no sum is added so that each of its rows leaves 0 at its lead: no number ahead can be less.
+    for row in null_rows(prime, rows, many):
+        out = row_less(prime, out, row, row.index(1))
+    return out

@@ -43,10 +43,16 @@ def outer_sums(web, row):
 
 def filling_sums(web):
     """For all bits at the outer legs, ascending: the sum at them."""
+    return outer_sums(web, row_without(web, filled_places(web), []))
+
+
+def row_without(web, filled, places):
+    """The row of the products of what all rules are worth but those at these places."""
     row = one_row(web)
-    for rule, filled in zip(web.rules, filled_places(web)):
-        row = times_row(web.prime, row, rule.table, filled)
-    return outer_sums(web, row)
+    for place, rule in enumerate(web.rules):
+        if place not in places:
+            row = times_row(web.prime, row, rule.table, filled[place])
+    return row
 
 
 def rows_without(web, filled):

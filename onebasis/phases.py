@@ -74,11 +74,12 @@ def add_parity(phase, power, mask):
 
 def taken_away(phase, gone):
     """Takes a parameter away; the pair of its power and of the mask of those that it was paired with."""
-    told = (phase.powers[gone], phase.signs[gone])
-    for k in places_in(told[1]):
+    power, paired = phase.powers[gone], phase.signs[gone]
+    for k in places_in(paired):
         phase.signs[k] ^= 1 << gone
+    phase.powers[gone], phase.signs[gone] = 0, 0
     phase.left ^= 1 << gone
-    return told
+    return (power, paired)
 
 
 def substitute(phase, gone, bit, mask):

@@ -2,15 +2,14 @@
 
 from itertools import combinations
 
-from onebasis.checks import is_list
 from onebasis.errors import BadRule
+from onebasis.factoring import is_split, worths_at
 from onebasis.fields import inverse_of
 from onebasis.forms import want_form
-from onebasis.legwork import leg_sums
 from onebasis.onesrules import worths_by_ones
 from onebasis.pfaffians import first_not_zero
 from onebasis.rules import Rule, want_rule
-from onebasis.webs import are_rules
+from onebasis.webs import are_rules_of_one_prime
 
 LEAST_BY_ONES = 2
 
@@ -18,38 +17,26 @@ LEAST_BY_ONES = 2
 def rule_parts(rule):
     """The parts of the text of the rule, each the pair of its word and its numbers."""
     want_rule(rule)
-    splits = [at for at in range(1, rule.legs) if is_parted(rule, at)] if any(rule.table) else []
+    base = first_not_zero(rule.table)
+    if base is None:
+        base, splits = 0, []
+    else:
+        splits = [at for at in range(1, rule.legs) if is_split(rule, base, list(range(at)))]
     found = []
     for many in range(len(splits) + 1):
         for cuts in combinations(splits, many):
             bounds = [0] + list(cuts) + [rule.legs]
             spans = [(bounds[k], bounds[k + 1]) for k in range(many + 1)]
-            parts = [part_of(rule, low, high) for low, high in spans]
+            parts = [part_of(rule, base, low, high) for low, high in spans]
             size = sum([len(numbers) for _, numbers in parts])
             found.append((size, len(parts), [low - high for low, high in spans], parts))
     return min(found, key=lambda row: row[:3])[3]
 
 
-def is_parted(rule, at):
-    """Whether a rule that is not 0 throughout is a product of a rule of the legs ahead of at and one of the others."""
-    size = 1 << (rule.legs - at)
-    rows = [rule.table[k:k + size] for k in range(0, len(rule.table), size)]
-    first = [row for row in rows if any(row)][0]
-    lead = first_not_zero(first)
-    for row in rows:
-        if any([(x * first[lead] - y * row[lead]) % rule.prime for x, y in zip(row, first)]):
-            return False
-    return True
-
-
-def part_of(rule, low, high):
-    """The part of the legs from low to ahead of high, for a rule that can be parted there."""
-    base = first_not_zero(rule.table)
-    if base is None:
-        base = 0
+def part_of(rule, base, low, high):
+    """The part of the legs from low to ahead of high, for a rule that can be parted there, round the bits of base."""
     legs = list(range(low, high))
-    zeros = base - sum([base & 1 << (rule.legs - 1 - leg) for leg in legs])
-    numbers = [rule.table[k] for k in leg_sums(rule.legs, legs, zeros)]
+    numbers = worths_at(rule, base, legs)
     if low > 0:
         inverse = inverse_of(rule.prime, rule.table[base])
         numbers = [number * inverse % rule.prime for number in numbers]
@@ -78,9 +65,7 @@ def numbers_text(numbers):
 
 def rules_text(rules):
     """The text of a list of rules of one prime."""
-    if not is_list(rules) or len(rules) == 0 or not isinstance(rules[0], Rule):
-        raise BadRule("rules")
-    if not are_rules(rules[0].prime, rules):
+    if not are_rules_of_one_prime(rules) or len(rules) == 0:
         raise BadRule("rules")
     return f"mod {rules[0].prime} " + " ".join(["| " + parts_text(rule) for rule in rules])
 

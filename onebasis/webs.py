@@ -39,6 +39,13 @@ def are_rules(prime, things):
     return all([isinstance(x, Rule) and x.prime == prime for x in things])
 
 
+def are_rules_of_one_prime(things):
+    """Whether it is a list of rules that all have one prime, within the limits."""
+    if not is_list(things):
+        return False
+    return len(things) == 0 or (isinstance(things[0], Rule) and are_rules(things[0].prime, things))
+
+
 def are_ties(counts, things):
     """Whether it is a list of pairs of legs, all unlike, within the limits."""
     if not is_list(things) or len(things) > MOST_TIES or not all([is_tuple_of(x, 2) for x in things]):

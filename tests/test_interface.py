@@ -75,14 +75,38 @@ LISTED = {
     "affinesums": ["affine_sum(web)"],
     "classbases": ["affine_kinds(prime)", "affine_bases(prime, lefts, rights)", "product_bases(prime, lefts, rights)",
                    "class_basis_sum(web, lefts)"],
+    "shorts": ["bunches_of(rule)", "factors(rule)", "short_sum(web)"],
+    "classes": ["classes(rules)", "class_sum(web)"],
+    "renumbers": ["renumbered(web, order)", "telling(web, place)", "plain_web(web)", "many_renumberings(web, other)",
+                  "least_renumbering(web, other)", "places_alike(web)"],
+    "legturns": ["legs_turned(web, turns)", "turned_telling(web, place, leg)", "plain_turned(web)",
+                 "many_turnings(web, other)", "least_turning(web, other)", "legs_alike(web)"],
+    "wants": ["fitting(web, place, wanted)", "barring(web, place, wanted)"],
+    "channels": ["across(web, one, other, bits)", "channels(web, one, other, bits)", "parting(web, one, other)",
+                 "ways(web, one, other)"],
+    "questions": ["is_question(thing)", "answered(web, question)"],
+    "benches": ["is_bench_deed(thing)", "Bench(web)"],
+    "journals": ["deed_line(deed)", "deed_of_line(text)", "journal(bench)", "taken_up(web, lines)"],
+    "desk": ["Desk(web)"],
+    "readers": ["rule_of_text(text)", "rules_of_text(text)", "form_of_text(text)", "web_of_text(text)",
+                "next_in_rule(text)", "next_in_rules(text)", "next_in_form(text)", "next_in_web(text)"],
+    "webtexts": ["web_text(web)"],
+    "zeropapers": ["zero_paper(web)", "is_zero_paper(web, paper)"],
     "gates": ["Gate(prime, places, ties, outer)", "gate_web(gate)", "is_flat_gate(gate)"],
 }
 
 
-METHODS = ["web(self)", "course(self)", "region_form(self, region)", "whole_sum(self)", "surrounding(self, region)",
-           "facing(self, place)", "share_of(self, tie)", "kept(self)", "made(self)", "add(self, rule)",
-           "put(self, place, rule)", "draw(self, one, other, rules)", "drop(self, tie, rules)", "undo(self)",
-           "redo(self)", "deeds(self)", "do(self, deed)"]
+METHODS = {
+    ("lives", "Live"): [
+        "web(self)", "course(self)", "region_form(self, region)", "whole_sum(self)", "surrounding(self, region)",
+        "facing(self, place)", "share_of(self, tie)", "kept(self)", "made(self)", "add(self, rule)",
+        "put(self, place, rule)", "draw(self, one, other, rules)", "drop(self, tie, rules)", "undo(self)",
+        "redo(self)", "deeds(self)", "do(self, deed)"],
+    ("benches", "Bench"): [
+        "do(self, deed)", "undo(self)", "redo(self)", "questions(self)", "answers(self)", "deeds(self)", "undone(self)",
+        "what_if(self, deed)"],
+    ("desk", "Desk"): ["say(self, line)"],
+}
 
 
 class Interface(unittest.TestCase):
@@ -95,8 +119,9 @@ class Interface(unittest.TestCase):
                 self.assertEqual(thing.__module__, module.__name__)
                 self.assertEqual(name + str(inspect.signature(thing)), told)
 
-    def test_methods_of_live(self):
-        live = importlib.import_module("onebasis.lives").Live
-        for told in METHODS:
-            name = told.split("(")[0]
-            self.assertEqual(name + str(inspect.signature(vars(live)[name])), told)
+    def test_methods(self):
+        for (stem, name), listed in METHODS.items():
+            kind = getattr(importlib.import_module("onebasis." + stem), name)
+            for told in listed:
+                method = told.split("(")[0]
+                self.assertEqual(method + str(inspect.signature(vars(kind)[method])), told)

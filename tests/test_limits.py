@@ -10,8 +10,10 @@ from onebasis.bestbits import best_bits
 from onebasis.blame import blame, exchanged
 from onebasis.bases import Basis, changed, inverse
 from onebasis.boards import board_of, board_sum
+from onebasis.channels import channels, parting, ways
 from onebasis.chords import chord_rule
 from onebasis.classbases import affine_bases, affine_kinds, class_basis_sum, product_bases
+from onebasis.classes import classes
 from onebasis.closings import closings
 from onebasis.courses import course_of, is_course, region_rule, regions, ring
 from onebasis.cuts import least_cut
@@ -22,7 +24,9 @@ from onebasis.errors import TooMany
 from onebasis.foundforms import form_of
 from onebasis.gatemoves import moves_of
 from onebasis.gates import Gate, gate_web, is_flat_gate
+from onebasis.journals import journal, taken_up
 from onebasis.kin import kin
+from onebasis.legturns import least_turning, legs_alike, legs_turned, turned_telling
 from onebasis.lines import line_of
 from onebasis.lives import Live
 from onebasis.lots import bases_of
@@ -30,11 +34,14 @@ from onebasis.lumps import edge_of, lumped
 from onebasis.onesrules import equations
 from onebasis.products import Product
 from onebasis.productsums import product_closed
+from onebasis.readers import rules_of_text
+from onebasis.renumbers import least_renumbering, places_alike, renumbered, telling
 from onebasis.roads import best_road, fence_of, is_fence
 from onebasis.roadsums import road_counts, road_sum
 from onebasis.rules import Rule, mirrored, ones, turned
 from onebasis.ruletexts import rule_parts
 from onebasis.shares import pinned, shares
+from onebasis.shorts import bunches_of, factors
 from onebasis.sided import side_changed, sides
 from onebasis.stops import stopped, stops
 from onebasis.tiebases import tie_bases
@@ -200,3 +207,28 @@ class OwnLists(Case):
             thing.clear()
         self.assertEqual(form, Affine(5, 2, 1, (0, 0), [(1, 0), (0, 1)], [1, 3], [(0, 1)]))
         self.assertEqual(product.bunches, (((0,), (0,), 1), ((1,), (0,), 2)))
+
+    def test_renumberings_texts_and_benches(self):
+        rule = Rule(5, [1, 2, 3, 4])
+        web = Web(5, [rule, rule], [((0, 0), (1, 1)), ((0, 1), (1, 0))], [])
+        bench = taken_up(web, ["ask sum -", "flip 0.0"])
+        calls = ((bunches_of, rule), (classes, [Rule(5, [1])]), (telling, web, 0), (least_renumbering, web, web),
+                 (places_alike, web), (turned_telling, web, 0, 0), (legs_alike, web), (parting, web, 0, 1), (ways, web, 0, 1),
+                 (journal, bench), (rules_of_text, "mod 5 | [1]"))
+        for call, *things in calls:
+            first, second = call(*things), call(*things)
+            self.assertEqual(first, second)
+            self.assertTrue(first)
+            first.clear()
+            self.assertEqual(call(*things), second)
+        for told in (factors(rule), channels(web, 0, 1, ()), least_turning(web, web)):
+            self.assertTrue(told[1])
+            told[1].clear()
+        self.assertEqual((factors(rule)[1], len(channels(web, 0, 1, ())[1])), ([rule], 4))
+        self.assertEqual(least_turning(web, web), ([0, 1], [0, 0]))
+        rules, order, turns, lines = [rule, rule], [1, 0], [1, 1], ["flip 0.0"]
+        classes(rules)
+        renumbered(web, order)
+        legs_turned(web, turns)
+        taken_up(web, lines)
+        self.same((rules, order, turns, lines), ([rule, rule], [1, 0], [1, 1], ["flip 0.0"]))

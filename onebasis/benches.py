@@ -1,6 +1,6 @@
 """Workbenches: webs that are edited, with questions whose answers are told anew behind each deed."""
 
-from onebasis.edits import SHAPES, edited, has_shape, is_edit
+from onebasis.edits import SHAPES, edited, first_word, has_shape, is_edit
 from onebasis.errors import BadBench, BadDeed, NotLet
 from onebasis.questions import answered, is_question
 from onebasis.webs import want_web
@@ -10,9 +10,10 @@ UNASKING = {"unask": ("number",)}
 
 def is_bench_deed(thing):
     """Whether any value is a deed of a workbench."""
-    if isinstance(thing, tuple) and len(thing) == 2 and isinstance(thing[0], str) and thing[0] == "ask":
-        return is_question(thing[1])
-    return is_edit(thing) or has_shape(UNASKING, thing)
+    word = first_word(thing)
+    if word == "ask":
+        return len(thing) == 2 and is_question(thing[1])
+    return is_edit(thing) or has_shape(UNASKING.get(word), thing)
 
 
 class Stand:

@@ -85,7 +85,6 @@ def class_basis_sum(web, lefts):
     """The word of a class, its first basis for the web, and the sum of the web; None without a basis."""
     want_web(web)
     want_sides(web, lefts)
-    want_small(web.prime)
     rules, others = rules_at(web, lefts), rules_at(web, places_right(web, lefts))
     for basis in affine_bases(web.prime, rules, others)[:1]:
         told = affine_rule(affine_sum(side_changed(web, lefts, basis)))

@@ -9,7 +9,7 @@ from onebasis.foundproducts import is_product_rule
 from onebasis.products import product_rule
 from onebasis.productsums import product_sum
 from onebasis.shorts import is_short, lots_beside, short_sum
-from onebasis.webs import are_rules_of_one_prime, part, pieces, want_web
+from onebasis.webs import are_rules_of_one_prime, part, pieces
 
 
 def classes(rules):
@@ -30,7 +30,6 @@ def classes(rules):
 
 def class_sum(web):
     """The sum of a web each of whose pieces is of one class."""
-    want_web(web)
     lots = []
     for places in pieces(web):
         piece = part(web, places)

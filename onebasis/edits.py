@@ -27,14 +27,18 @@ SHAPES = {
 
 def is_edit(thing):
     """Whether any value is an edit."""
-    return has_shape(SHAPES, thing)
+    return has_shape(SHAPES.get(first_word(thing)), thing)
 
 
-def has_shape(shapes, thing):
-    """Whether any value is a tuple of one of the words and of parts of the kinds that shapes tells for it."""
+def first_word(thing):
+    """The string that a tuple begins with; None of any other value."""
     if not isinstance(thing, tuple) or len(thing) == 0 or not isinstance(thing[0], str):
-        return False
-    shape = shapes.get(thing[0])
+        return None
+    return thing[0]
+
+
+def has_shape(shape, thing):
+    """Whether a tuple has, behind its first word, just parts of the kinds that the shape tells; no shape, if None."""
     if shape is None or len(thing) != len(shape) + 1:
         return False
     return all([is_part(kind, x) for kind, x in zip(shape, thing[1:])])

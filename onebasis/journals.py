@@ -41,14 +41,13 @@ def deed_of_line(text):
 
 def told_deed(words):
     """What the words of a text tell, a deed or not."""
-    if words[0] == "ask":
-        return ("ask", told_parts(QUESTIONS, words[1:]))
-    return told_parts(UNASKING if words[0] in UNASKING else SHAPES, words)
+    if words[0] == "ask" and len(words) > 1:
+        return ("ask", told_parts(QUESTIONS.get(words[1]), words[1:]))
+    return told_parts(SHAPES.get(words[0], UNASKING.get(words[0])), words)
 
 
-def told_parts(shapes, words):
-    """The tuple of the first word and of the parts that the others tell; None if they are none."""
-    kinds = shapes.get(words[0]) if words else None
+def told_parts(kinds, words):
+    """The tuple of the first word and of the parts of these kinds that the others tell; None if they are none."""
     parts = None if kinds is None else parts_of_words(kinds, words[1:], MOST_DIGITS)
     return None if parts is None else tuple(words[:1] + parts)
 

@@ -3,7 +3,7 @@
 from onebasis.around import around, want_outer_bits
 from onebasis.channels import channels, parting
 from onebasis.classes import classes
-from onebasis.edits import has_shape, tie_at
+from onebasis.edits import first_word, has_shape, tie_at
 from onebasis.entries import is_free
 from onebasis.errors import BadBits, BadEntries, BadNumber, BadQuestion, NoForm, NotFlat, NotLet, TooMany
 from onebasis.lots import first_basis
@@ -25,7 +25,7 @@ QUESTIONS = {
 
 def is_question(thing):
     """Whether any value is a question."""
-    return has_shape(QUESTIONS, thing)
+    return has_shape(QUESTIONS.get(first_word(thing)), thing)
 
 
 def answered(web, question):

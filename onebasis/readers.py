@@ -23,7 +23,7 @@ def read(sort, text):
         further = behind_token(reading, text[at:end])
         if further is None or end == len(text):
             many = 1
-            while many <= end - at and (further is not None or may_begin(reading, text[at:at + many])):
+            while many <= end - at and may_begin(reading, text[at:at + many]):
                 many += 1
             return (at + many - 1, reading, text[at:end])
         reading = further
@@ -35,7 +35,7 @@ def whole_tokens(sort, text):
     """The tokens of a text; refuses what is none."""
     at, reading, token = read(sort, text)
     further = behind_token(reading, token) if token else reading
-    if at < len(text) or further is None or not is_whole(further):
+    if further is None or not is_whole(further):
         raise BadText(at)
     return tokens_of(text)
 

@@ -128,7 +128,7 @@ def behind_leg(reading, token, stood):
 
 def may_begin_leg(reading, token):
     """Whether the word of a leg can begin so: one that stands once and may be closed, or a new one."""
-    if reading["sort"] != "web" or len(token) > MOST_LETTERS or legs_without(reading) < 1:
+    if reading["sort"] != "web" or legs_without(reading) < 1:
         return False
     begun = [word for word in reading["words"] if word.startswith(token)]
     once = [word for word in begun if reading["words"][word] == 1]
@@ -147,7 +147,7 @@ def behind_sign(reading, token):
         return changed_reading(reading, {"step": "numbers", "sign": token, "many": 0})
     if step == "numbers" and token == {"[": "]", "<": ">"}[reading["sign"]] and is_part_whole(reading):
         legs = reading["legs"] + least_legs(reading)
-        return changed_reading(reading, {"step": "parted", "legs": legs, "many": 0})
+        return changed_reading(reading, {"step": "parted", "legs": legs})
     if step == "parted" and token == "*":
         return changed_reading(reading, {"step": "part"})
     if token == ":" and step in COLONS:
@@ -191,10 +191,6 @@ def behind_place(reading, token):
 def can_go_on(reading):
     """Whether some text goes on so, what is read of the tokens being what may stand there."""
     least, most = legs_to_come(reading)
-    if least > most:
-        return False
-    if reading["sort"] != "web" or reading["step"] == "outer":
-        return True
     ahead = MOST_LEGS * (MOST_PLACES - reading["places"])
     for many in range(least, most + 1):
         for outer in range(MOST_LEGS + 1):

@@ -101,7 +101,7 @@ def plain_ground(ground):
 
 def many_matches(ground, other):
     """How many ways lead from the web to the other one."""
-    if ground.whole.prime != other.whole.prime or plain_ground(ground) != plain_ground(other):
+    if plain_ground(ground) != plain_ground(other):
         return 0
     number = 1
     alike, before = 0, None

@@ -8,7 +8,7 @@ from onebasis.checks import are_ascending, is_from, is_tuple_of
 from onebasis.errors import BadWeb
 from onebasis.legwork import places_in
 from onebasis.parities import kernel_masks, parity
-from onebasis.phases import lead_legs, tie_legs
+from onebasis.phases import tie_legs
 from onebasis.webs import want_web
 
 
@@ -31,8 +31,7 @@ def zero_paper(web):
         if parity(lot & base):
             return ("odd", tuple(places_in(lot)))
     phase, masks = tied_phase(web, forms)
-    gone = [1 << k for k in range(len(phase.powers)) if not phase.left >> k & 1]
-    for taken in kernel_masks(paired_masks(phase) + gone, len(phase.powers)):
+    for taken in kernel_masks(paired_masks(phase), len(phase.powers)):
         if sign_of(phase, taken):
             return ("signs", tuple([k for k, mask in enumerate(masks) if parity(mask & taken)]))
     return None
@@ -63,9 +62,7 @@ def tied_phase(web, forms):
     for one, other in web.ties:
         tie_legs(phase, one, other)
         del phase.legs[other]
-    names = [one for one, _ in web.ties]
-    lead_legs(phase, names)
-    return (phase, [phase.legs[name][1] for name in names])
+    return (phase, [phase.legs[one][1] for one, _ in web.ties])
 
 
 def paired_masks(phase):
@@ -95,19 +92,20 @@ def is_zero_paper(web, paper):
         return is_from(told, 0, len(forms) - 1) and forms[told].number == 0
     if not isinstance(told, tuple) or not are_ascending(told, len(web.ties) - 1):
         return False
-    without = any([form.number == 0 for form in forms])
     lot = sum([1 << k for k in told])
     base, ways = masks_of_ties(web, forms)
     if word == "odd":
-        return not without and parity(lot & base) == 1 and not any([parity(lot & way) for way in ways])
-    return word == "signs" and (without or is_turning(web, forms, lot))
+        whole = all([form.number for form in forms])
+        return whole and parity(lot & base) == 1 and not any([parity(lot & way) for way in ways])
+    return word == "signs" and is_turning(web, forms, lot)
 
 
 def is_turning(web, forms, lot):
-    """Whether each term, the bits of these ties turned, is its negative; no rule is 0 everywhere."""
+    """Whether each term, the bits of these ties turned, is its negative."""
     phase, masks = tied_phase(web, forms)
     if phase.number == 0:
         return True
+    # Each parameter that is left is the bit of its own way's lead still, and so of a tie.
     leads = {}
     for k, mask in enumerate(masks):
         leads.setdefault(mask, k)

@@ -93,6 +93,7 @@ class AffineForms(Case):
         form, other = Affine(5, 2, 1, (0, 0), [], [], []), Affine(7, 60, 1, (0,) * 60, [], [], [])
         for thing in ODD_THINGS + [Rule(5, [1] * 4)]:
             self.refuses(BadAffine, None, affine_beside, thing, None)
+            self.refuses(BadAffine, None, affine_beside, thing, form)
             self.refuses(BadAffine, None, affine_beside, form, thing)
             self.refuses(BadAffine, None, affine_closed, thing, None, None)
             self.refuses(BadAffine, None, affine_set, thing, None, None)

@@ -1,8 +1,9 @@
 from itertools import product
 
-from classhelpers import added, plain_unit
+from classhelpers import added, plain_unit, some_affine
 from helpers import ODD_THINGS, Case, at, chance_of, some_rule
 
+from onebasis.affine import affine_rule
 from onebasis.affinepapers import is_against_affine, not_affine
 from onebasis.errors import BadRule
 from onebasis.rules import Rule
@@ -52,6 +53,28 @@ class AffinePapers(Case):
             if good:
                 self.assertIn(not_affine(rule), good)
         self.assertGreater(min(found.values()), 500)
+
+    def test_phases_of_many_ways(self):
+        chance = chance_of(621)
+        met = {}
+        for number in range(120):
+            prime = (5, 7, 13)[number % 3]
+            form = some_affine(chance, prime, chance.randrange(4, 8), 0)
+            if len(form.ways) < 3:
+                continue
+            # Where all of some three or four ways are taken the worth is turned, so all sums of two are as they were.
+            some = chance.sample(range(len(form.ways)), min(len(form.ways), chance.choice((3, 3, 4))))
+            table = list(affine_rule(form).table)
+            for at_bits, bits in enumerate(product((0, 1), repeat=form.legs)):
+                if all(bits[form.ways[k].index(1)] for k in some):
+                    table[at_bits] = -table[at_bits] % prime
+            rule = Rule(prime, table)
+            told = not_affine(rule)
+            self.assertEqual(told[0], "phase")
+            self.assertTrue(is_paper(rule, told))
+            self.assertIs(is_against_affine(rule, told), True)
+            met[len(some)] = met.get(len(some), 0) + 1
+        self.assertGreater(min(met[3], met[4]), 8)
 
     def test_bent_papers_and_any_kind(self):
         rule = Rule(5, [1, 1, 1, 2])

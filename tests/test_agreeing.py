@@ -2,19 +2,27 @@
 
 from itertools import combinations
 
+from classhelpers import some_affine_rule, some_product_rule
 from formhelpers import some_even_rule, some_formed_rule, some_full_rule
 from helpers import Case, brute_sum, chance_of, grid_web, some_flat_outer_web, some_web
 from test_cuts import some_formed_web
 from test_laying import lines_of
+from test_shorts import some_short
 
+from onebasis.affine import affine_rule
+from onebasis.affinesums import affine_sum
 from onebasis.boards import board_sum
+from onebasis.classes import class_sum, classes
 from onebasis.closings import flat_sum
 from onebasis.cuts import cut_sum
 from onebasis.lines import line_of
+from onebasis.products import product_rule
+from onebasis.productsums import product_sum
 from onebasis.roads import road_width
 from onebasis.roadsums import road_sum
 from onebasis.rules import Rule, flipped, mirrored, scaled, turned
 from onebasis.shares import pinned
+from onebasis.shorts import short_sum
 from onebasis.webs import Web, is_flat, plain_sum
 
 
@@ -71,6 +79,28 @@ class Agreeing(Case):
             self.assertEqual(board_sum(web, line_of(web)), told)
             self.assertEqual(road_sum(web, list(range(27))), told)
             self.assertEqual(cut_sum(web, web.ties[3:6]), told)
+
+    def test_classes(self):
+        chance = chance_of(499)
+        met = {"affine": 0, "product": 0, "short": 0, "form": 0}
+        for number in range(150):
+            make = (some_affine_rule, some_product_rule, some_short, some_formed_rule)[number % 4]
+            web = some_flat_outer_web(chance, (3, 5)[number % 2], chance.randrange(1, 5), chance.randrange(7), make)
+            told = plain_sum(web)
+            words = classes(web.rules)
+            if "affine" in words:
+                self.assertEqual(affine_rule(affine_sum(web)), told)
+            if "product" in words:
+                self.assertEqual(product_rule(product_sum(web)), told)
+            if "short" in words:
+                self.assertEqual(short_sum(web), told)
+            if "form" in words:
+                self.assertEqual(flat_sum(web), told)
+            if words and words != ["form"]:
+                self.assertEqual(class_sum(web), told)
+            for word in words:
+                met[word] += any(told.table)
+        self.assertGreater(min(met.values()), 20)
 
     def test_flipped_turned_mirrored_scaled(self):
         chance = chance_of(498)

@@ -155,6 +155,8 @@ class Edits(Case):
         web = Web(3, [five, five], [((0, 0), (1, 0))], [(p, k) for p in (0, 1) for k in range(1, 5)])
         self.refuses(NotLet, "many", edited, web, ("cut", (0, 0)))
         self.assertEqual(edited(web, ("merge", (1, 0))).rules[0], Rule(3, [2] * 256))
+        seven = Web(3, [five, Rule(3, [1] * 16)], web.ties, web.outer[:7])
+        self.refuses(NotLet, "many", edited, seven, ("cut", (0, 0)))
         eight = Rule(3, [1] * 256)
         self.assertEqual(len(edited(Web(3, [eight], [((0, 0), (0, 1))], [(0, k) for k in range(2, 8)]),
                                     ("cut", (0, 0))).outer), 8)

@@ -169,6 +169,23 @@ class Language(unittest.TestCase):
                     kept = isinstance(node.value.func, ast.Name) and node.value.func.id
                     self.assertNotIn(kept, ("zip", "enumerate", "reversed", "combinations", "permutations"), name)
 
+    def test_tables_are_only_read(self):
+        tables = {node.targets[0].id for _, tree in trees() for node in tree.body
+                  if isinstance(node, ast.Assign) and isinstance(node.value, (ast.List, ast.Dict))}
+        for name, tree in trees():
+            above = {}
+            for node in ast.walk(tree):
+                for child in ast.iter_child_nodes(node):
+                    above[child] = node
+            for node in ast.walk(tree):
+                if isinstance(node, ast.Name) and isinstance(node.ctx, ast.Load) and node.id in tables:
+                    # An item, a test with in, or a method that reads; not an argument, and not another name.
+                    where = above[node]
+                    read = isinstance(where, ast.Subscript) and where.value == node and isinstance(where.ctx, ast.Load)
+                    read = read or isinstance(where, ast.Attribute) and where.attr in ("get", "items", "keys", "values")
+                    read = read or isinstance(where, ast.Compare) and isinstance(where.ops[0], (ast.In, ast.NotIn))
+                    self.assertTrue(read, (name, node.lineno, node.id))
+
     def test_words(self):
         for path in sources():
             for token in tokenize.generate_tokens(io.StringIO(path.read_text()).readline):

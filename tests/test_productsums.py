@@ -103,6 +103,7 @@ class ProductSums(Case):
         form, other = Product(5, 2, [((0,), (0,), 1), ((1,), (0,), 1)]), Product(7, 1, [((k,), (0,), 1) for k in range(60)])
         for thing in ODD_THINGS + [Rule(5, [1] * 4)]:
             self.refuses(BadProduct, None, product_beside, thing, None)
+            self.refuses(BadProduct, None, product_beside, thing, form)
             self.refuses(BadProduct, None, product_beside, form, thing)
             self.refuses(BadProduct, None, product_closed, thing, None, None)
             self.refuses(BadWeb, None, product_sum, thing)

@@ -130,6 +130,18 @@ class Questions(Case):
                      [(p, k) for p in range(2) for k in range(4, 8)])
         self.assertEqual(answered(twelve, ("sum", (0,) * 8)), brute_sum(twelve)[0])
 
+    def test_bases(self):
+        chance = chance_of(865)
+        met = {}
+        for number in range(60):
+            prime = (5, 7, 11)[number % 3]
+            rules = [Rule(prime, [1, chance.randrange(1, prime)]) for _ in range(1 + number % 2)]
+            web = Web(prime, rules, [], [(place, 0) for place in range(len(rules))])
+            told = answered(web, ("basis",))
+            self.same(told, plain_answer(web, ("basis",)))
+            met[type(told)] = met.get(type(told), 0) + 1
+        self.assertGreater(min(met[tuple], met[str]), 8)
+
     def test_examples(self):
         self.same(answered(TWO, ("sum", (0,))), 4)
         self.same(answered(TWO, ("sum", (1,))), 1)

@@ -268,7 +268,8 @@ class WebLimits(TextCase):
                          ("mod 5 | [1 2] a : b", 18), ("mod 5 | [1 2] a : a a", 20), ("mod 5 | [1 2] a | [1 2] a : a", 28),
                          ("mod 5 | [1 2] a | [1 2] a | [1 2] a :", 35), ("mod 5 [1]", 6), ("mod 5 a", 6), ("mod 5 : :", 8),
                          ("mod 5 : |", 8), ("mod 5 | [1 2] a * [1]", 16), ("mod 5 | [1 2] | [1]", 14), ("mod 5 |", 7),
-                         ("mod 5 | [1 2] aaaaaaaaaaaaa", 26), ("mod 5 | [1 2] a : ab", 19), ("mod 5 | [1 2] a [1]", 16),
+                         ("mod 5 | [1 2] aaaaaaaaaaaaa", 26),
+                         ("mod 5 | [1 2] aaaaaaaaaaaaa : aaaaaaaaaaaaa", 26), ("mod 5 | [1 2] a : ab", 19), ("mod 5 | [1 2] a [1]", 16),
                          ("mod 5 | a", 8), ("mod 5 | [1 2] 1", 14), ("mod 5 | [1 2] ab : a :", 20)):
             self.fails("web", text, at)
         web = web_of_text("mod5|[1 2]mod|<1 2 3>form mod:form")
@@ -347,6 +348,10 @@ class WebLimits(TextCase):
         # What stands once cannot be closed: there would be 201 ties.
         self.same(next_in_web(full + " | [1 1] x | [1 1] x"), (False, "abcdefghijklmnopqrstuvwxyz"))
         self.same(next_in_web(full + " | <1 0 1> x"), (False, " abcdefghijklmnopqrstuvwxyz"))
+        # A word of twelve letters that stands once can neither be closed nor be a new one.
+        letters = "abcdefghijklmnopqrstuvwxyz"
+        self.same(next_in_web(full + " | [1 1] " + "x" * 12 + " | [1 1] " + "x" * 11), (False, " :" + letters.replace("x", "") + "|"))
+        self.same(next_in_web("mod 3 | [1 1] " + "x" * 12 + " | [1 1] " + "x" * 11), (False, " :" + letters + "|"))
 
     def test_at_the_limits(self):
         chance = chance_of(726)

@@ -114,7 +114,7 @@ class ZeroPapers(Case):
     def test_bent_papers_and_any_kind(self):
         self.assertEqual(zero_paper(LOOP), ("signs", (0,)))
         for thing in ODD_THINGS + [
-                ["signs", (0,)], ("signs", [0]), ("signs", (0, 0)), ("signs", (1,)), ("signs", (-1,)), ("signs", (False,)),
+                ["signs", (0,)], ("signs", [0]), ("signs", (0, 0)), ("signs", (1,)), ("signs", (0, 1)), ("signs", (-1, 0)), ("signs", (-1,)), ("signs", (False,)),
                 ("signs", ()), ("signs",), ("signs", (0,), 0), ("odd", (0,)), ("rule", 0), ("rule", (0,)), ("signs", 0),
                 ("Signs", (0,)), (None, (0,)), (0, (0,)), ("signs", None), ("signs", (0.0,)), ([], (0,)), ("signs", (None,))]:
             self.assertIs(is_zero_paper(LOOP, thing), False, thing)
@@ -123,6 +123,10 @@ class ZeroPapers(Case):
             self.assertIs(is_zero_paper(zero, ("rule", place)), True)
         for thing in (2, -1, True, 0.0, None, "0", (0,)):
             self.assertIs(is_zero_paper(zero, ("rule", thing)), False)
+        # All bits 0 at the one leg of a tie, all 1 at the other.
+        odd = Web(5, [Rule(5, [1, 0]), Rule(5, [0, 1])], [((0, 0), (1, 0))], [])
+        for ties, wanted in (((0,), True), ((0, 1), False), ((-1, 0), False), ([0], False), ((), False)):
+            self.assertIs(is_zero_paper(odd, ("odd", ties)), wanted)
         two = Web(5, [Rule(5, [1, 1, 1, 4])] * 2, [((p, 0), (p, 1)) for p in range(2)], [])
         for ties, wanted in (((0,), True), ((1,), True), ((0, 1), False), ((1, 0), False), ((), False)):
             self.assertIs(is_zero_paper(two, ("signs", ties)), wanted)

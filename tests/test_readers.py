@@ -1,4 +1,5 @@
 from itertools import product
+from unittest.mock import patch
 
 from formhelpers import some_form
 from helpers import Case, chance_of, some_rule, some_web
@@ -372,3 +373,65 @@ class WebLimits(TextCase):
                     self.assertTrue(is_text("web", told))
         text = spaced(chance, web_tokens(chance, pairs_web(97, Rule(97, [1] * 256)), 5, 8))
         self.assertEqual(web_of_text(text), plain_read("web", text))
+
+
+PARTS = {
+    0: ["[ 0 ]"],
+    1: ["[ 0 0 ]", "[ 0 0 ] * [ 0 ]", "[ 0 ] * [ 0 0 ]"],
+    2: ["[ 0 0 0 0 ]", "[ 0 0 ] * [ 0 0 ]", "[ 0 0 ] * [ 0 ] * [ 0 0 ]"],
+}
+
+
+class SmallLimits(TextCase):
+    """With smaller limits all texts of few parts are gone through, and what may come next is read off them."""
+
+    def test_what_comes_next(self):
+        for legs, places, ties in ((1, 3, 1), (1, 4, 1), (1, 4, 2), (2, 2, 1), (2, 2, 2), (2, 3, 1)):
+            self.words = "abcdefgh"[:legs * places]
+            self.limits = (legs, places, ties)
+            self.behind = {}
+            self.places([], 0, [], 0, 0)
+            with patch.multiple("onebasis.readings", MOST_LEGS=legs, MOST_PLACES=places, MOST_TIES=ties):
+                for begun, told in self.behind.items():
+                    self.check(begun, told)
+
+    def places(self, tokens, many, once, twice, fresh):
+        """All texts that go on so behind a whole place."""
+        legs, places, ties = self.limits
+        if len(once) <= legs and twice <= ties:
+            for outer in (once, once[::-1]):
+                self.told(tokens + [":"] + outer)
+        if many < places:
+            for left in range(legs + 1):
+                for rule in PARTS[left]:
+                    self.place(tokens + ["|"] + rule.split(), many + 1, once, twice, fresh, left)
+
+    def place(self, tokens, many, once, twice, fresh, left):
+        """All texts that go on so where a place has so many legs without a word."""
+        if left == 0:
+            self.places(tokens, many, once, twice, fresh)
+            return
+        for word in once:
+            self.place(tokens + [word], many, [x for x in once if x != word], twice + 1, fresh, left - 1)
+        if fresh < len(self.words):
+            word = self.words[fresh]
+            self.place(tokens + [word], many, once + [word], twice, fresh + 1, left - 1)
+
+    def told(self, tokens):
+        for k in range(len(tokens) + 1):
+            self.behind.setdefault(tuple(tokens[:k]), set()).add(tokens[k] if k < len(tokens) else None)
+
+    def check(self, begun, told):
+        whole, signs = next_in_web(" ".join(("mod", "3") + begun) + " ")
+        self.assertIs(whole, None in told, begun)
+        row = " ".join(begun).split("|")[-1]
+        if "*" in row and not any(word in row for word in self.words):
+            # Here further parts may come that are not gone through.
+            return
+        found = set(signs) - set(" *<12")
+        wanted = told - {None, "*"}
+        if ":" not in begun and wanted & (set(self.words) - set(begun)):
+            # One new word stands for all of them, and each word may begin one.
+            self.assertTrue(set("abcdefghijklmnopqrstuvwxyz") <= found, begun)
+            found, wanted = [x - set("abcdefghijklmnopqrstuvwxyz") for x in (found, wanted)]
+        self.assertEqual(found, wanted, begun)

@@ -4,7 +4,7 @@ from onebasis.affine import MOST_AFFINE_LEGS, want_affine
 from onebasis.checks import is_bit
 from onebasis.errors import BadAffine, BadNumber, TooMany
 from onebasis.phases import Phase, affine_of, close_legs, put_in, restrict
-from onebasis.rules import want_leg
+from onebasis.rules import want_leg, want_two_legs
 
 
 def phase_of_form(form):
@@ -31,10 +31,7 @@ def affine_beside(form, other):
 def affine_closed(form, leg, other):
     """The affine form without two legs, summed over the bits 0 and 1 that both have."""
     want_affine(form)
-    want_leg(form, leg, "leg")
-    want_leg(form, other, "other")
-    if other == leg:
-        raise BadNumber("other")
+    want_two_legs(form, leg, other)
     phase = phase_of_form(form)
     close_legs(phase, leg, other)
     return affine_of(phase, [k for k in range(form.legs) if k not in (leg, other)])

@@ -1,10 +1,10 @@
 """Product forms beside one another and closed, and sums of webs of product rules."""
 
-from onebasis.errors import BadNumber, BadProduct, NotProduct, TooMany
+from onebasis.errors import BadProduct, NotProduct, TooMany
 from onebasis.foundproducts import product_form
 from onebasis.knots import knots_of, product_of_knots, tied_knots
 from onebasis.products import MOST_PRODUCT_LEGS, want_product
-from onebasis.rules import want_leg
+from onebasis.rules import want_two_legs
 from onebasis.webs import want_web
 
 
@@ -24,10 +24,7 @@ def product_beside(form, other):
 def product_closed(form, leg, other):
     """The product form without two legs, summed over the bits 0 and 1 that both have."""
     want_product(form)
-    want_leg(form, leg, "leg")
-    want_leg(form, other, "other")
-    if other == leg:
-        raise BadNumber("other")
+    want_two_legs(form, leg, other)
     knots = tied_knots(form.prime, knots_of(form, list(range(form.legs))), leg, other)
     names = [k for k in range(form.legs) if k not in (leg, other)]
     return product_of_knots(form.prime, form.number, knots, names)

@@ -33,6 +33,14 @@ def want_leg(rule, leg, part):
         raise BadNumber(part)
 
 
+def want_two_legs(rule, leg, other):
+    """Refuses what are no two legs of the rule."""
+    want_leg(rule, leg, "leg")
+    want_leg(rule, other, "other")
+    if other == leg:
+        raise BadNumber("other")
+
+
 def worth(rule, bits):
     """The number of the rule at a tuple of bits."""
     want_rule(rule)
@@ -101,10 +109,7 @@ def beside(rule, other):
 def closed(rule, leg, other):
     """The rule without two legs, summed over the bits 0 and 1 that both have."""
     want_rule(rule)
-    want_leg(rule, leg, "leg")
-    want_leg(rule, other, "other")
-    if other == leg:
-        raise BadNumber("other")
+    want_two_legs(rule, leg, other)
     others = [k for k in range(rule.legs) if k not in (leg, other)]
     both = leg_mask(rule.legs, leg) + leg_mask(rule.legs, other)
     zeros = leg_sums(rule.legs, others, 0)

@@ -1,6 +1,6 @@
 """Webs: rules at places, ties between their legs, and outer legs."""
 
-from onebasis.checks import MOST_LEGS, MOST_PLACES, MOST_TIES, are_free_legs, are_places, are_unlike, is_leg, is_list
+from onebasis.checks import MOST_PLACES, MOST_TIES, are_free_legs, are_places, are_unlike, is_leg, is_list
 from onebasis.checks import is_prime, is_tuple_of
 from onebasis.errors import BadNumber, BadWeb
 from onebasis.fillings import filling_sums, want_few
@@ -81,8 +81,6 @@ def part(web, places):
     among = [tie for tie in web.ties if tie[0][0] in found and tie[1][0] in found]
     tied = {leg: True for tie in among for leg in tie}
     outer = [(p, k) for p in places for k in range(web.rules[p].legs) if (p, k) not in tied]
-    if len(outer) > MOST_LEGS:
-        raise BadWeb("outer")
     ties = [((found[p], k), (found[q], j)) for (p, k), (q, j) in among]
     return Web(web.prime, [web.rules[p] for p in places], ties, [(found[p], k) for p, k in outer])
 

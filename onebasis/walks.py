@@ -37,6 +37,11 @@ def starts_of(ground, places):
     return [(place, k) for place in places for k in range(max(1, ground.counts[place]))]
 
 
+def all_starts(ground):
+    """All starts of the web, ascending."""
+    return starts_of(ground, list(range(len(ground.counts))))
+
+
 def walk_from(ground, start):
     """The starts of all places that a walk finds, in its sequence."""
     found = {start[0]: True}
@@ -119,7 +124,7 @@ def least_match(ground, other):
     if ground.whole.prime != other.whole.prime or len(ground.whole.rules) != many:
         return None
     told = {}
-    for start in starts_of(ground, range(many)):
+    for start in all_starts(ground):
         told[start] = telling_from(ground, start)
     match = {}
     used = {}
@@ -150,6 +155,6 @@ def matched(ground, walk, start):
 def alike_starts(ground):
     """The lists of the starts that tell the same, ascending."""
     lots = {}
-    for start in starts_of(ground, range(len(ground.counts))):
+    for start in all_starts(ground):
         lots.setdefault(tuple(telling_from(ground, start)), []).append(start)
     return list(lots.values())

@@ -21,8 +21,70 @@ compile copyright credits delattr dir eval exec exit gc globals help id importli
 vars sys hash next map round print""".split()
 WORDS = """type typing typing_extensions enum Enum IntEnum StrEnum Flag IntFlag Generic Protocol ABC ABCMeta namedtuple
 NamedTuple TypedDict TYPE_CHECKING abstractmethod _wall _WallAttr""".split()
+ONCE = "range zip enumerate reversed combinations permutations".split()
+VIEWS = "items keys values".split()
+TAKERS = "list tuple sorted sum any all".split()
 BARRED = (ast.AsyncFunctionDef, ast.Global, ast.GeneratorExp, ast.Yield, ast.YieldFrom, ast.Await, ast.AsyncFor,
           ast.AsyncWith, ast.Div, ast.MatMult, ast.Import, ast.AnnAssign)
+
+# Rows of a function of a, d and k, which hand on what is to be iterated on the spot, and which do not.
+BAD_ROWS = """g(range(k))
+g(a, range(k))
+g(zip(a, d))
+g(enumerate(a))
+g(reversed(a))
+g(d.items())
+g(d.keys())
+g(d.values())
+g(rows=range(k))
+a.g(range(k))
+a.extend(range(k))
+a.g(d.items())
+g(combinations(a, k))
+g([range(k)])
+return range(k)
+return (d.items(), k)
+a.rows = range(k)
+a[k] = range(k)
+rows = zip(a, d)
+rows = d.values()
+rows = range(k); g(rows)
+rows = range(k); return rows
+rows = range(k); rows = list(a)
+rows = range(k); other = rows
+rows = range(k); return lambda n: n in rows
+rows = range(k) if a else a
+return max(range(k), key=g)
+return min(a, d.values())
+return set(d.values())
+return len(zip(a, d))
+return len(d.values())
+return reversed(a)
+return list(reversed(d.items()))
+return range(k) == a
+return k in d.items()
+return k in range(k) == a
+return [x for x in a if g(range(x))]
+return k.join(d.values())
+return list(zip(a, range(k)))""".splitlines()
+GOOD_ROWS = """g(list(range(k)))
+g(tuple(zip(a, d)))
+g(list(d.items()), list(d.keys()), list(d.values()))
+g([x for x in range(k)])
+g([x for x, _ in zip(a, d)], [x for x in reversed(a)])
+a.extend(list(range(k)))
+return sorted(range(k), key=g)
+return sum(d.values()) + min(d.values()) + max(range(k), default=0)
+return list(reversed(range(k)))
+return list(enumerate(zip(a, d)))
+return dict(zip(a, d))
+return ", ".join(d.keys())
+return k in range(k) and k not in d.keys()
+return len(range(k)) + len(d.items())
+return [x for x in combinations(range(k), 2)]
+for x, y in d.items(): g(x, y)
+rows = range(k); return [x for x in rows if x in rows]
+rows = range(k); return rows[0] + len(rows) + sum(rows)""".splitlines()
 
 
 def sources():
@@ -51,6 +113,68 @@ def local_names(tree):
     found = [(node.arg, node.lineno) for node in ast.walk(tree) if isinstance(node, ast.arg)]
     return found + [(node.id, node.lineno) for node in ast.walk(tree)
                     if isinstance(node, ast.Name) and isinstance(node.ctx, ast.Store)]
+
+
+def parents(tree):
+    """For each node what it stands directly in."""
+    return {child: node for node in ast.walk(tree) for child in ast.iter_child_nodes(node)}
+
+
+def once_word(node):
+    """The word of a call whose answer is iterated at once; None for all else."""
+    if isinstance(node, ast.Call) and isinstance(node.func, ast.Name) and node.func.id in ONCE:
+        return node.func.id
+    if isinstance(node, ast.Call) and isinstance(node.func, ast.Attribute) and node.func.attr in VIEWS:
+        return node.func.attr
+    return None
+
+
+def is_iterated(word, node, where):
+    """Whether what this node gives is iterated where it stands, as the calls with this word are."""
+    if isinstance(where, (ast.For, ast.comprehension)):
+        return where.iter is node
+    if isinstance(where, ast.Compare):
+        # Beside others there would be a comparison with it, too.
+        return len(where.ops) == 1 and isinstance(where.ops[0], (ast.In, ast.NotIn)) and word in ("range", "keys")
+    if not isinstance(where, ast.Call) or node not in where.args[:1]:
+        return False
+    if isinstance(where.func, ast.Attribute):
+        return where.func.attr == "join" and isinstance(where.func.value, ast.Constant)
+    taker = getattr(where.func, "id", None)
+    if taker in ("min", "max"):
+        return len(where.args) == 1 and [key.arg for key in where.keywords] in ([], ["default"])
+    if word in ("combinations", "permutations"):
+        return taker in TAKERS and not where.keywords
+    takers = {"range": ["len", "reversed", "combinations", "permutations"],
+              "zip": ["combinations", "permutations"], "items": ["len", "combinations", "permutations"]}
+    return taker in TAKERS + ["dict", "enumerate", "zip"] + takers.get(word, [])
+
+
+def is_kept_range(function, node, above):
+    """Whether this range is kept by a plain local name, once, that is read only where it is iterated, asked or indexed."""
+    where = above[node]
+    if not isinstance(where, ast.Assign) or len(where.targets) != 1 or not isinstance(where.targets[0], ast.Name):
+        return False
+    uses = [use for use in ast.walk(function) if isinstance(use, ast.Name) and use.id == where.targets[0].id]
+    nested = [inner for inner in ast.walk(function) if isinstance(inner, (ast.FunctionDef, ast.Lambda))]
+    inside = [use for inner in nested if inner is not function for use in ast.walk(inner)]
+    if [use for use in uses if not isinstance(use.ctx, ast.Load)] != where.targets or any(use in inside for use in uses):
+        return False
+    reads = [(use, above[use]) for use in uses if use not in where.targets]
+    return all(is_iterated("range", use, at) or isinstance(at, ast.Subscript) and at.value is use for use, at in reads)
+
+
+def handed_on(tree):
+    """The rows of the ranges, zips, views and their kin that are not iterated on the spot."""
+    above = parents(tree)
+    found = []
+    for function in [node for node in ast.walk(tree) if isinstance(node, ast.FunctionDef)]:
+        for node in ast.walk(function):
+            word = once_word(node)
+            if word and not is_iterated(word, node, above[node]):
+                if word != "range" or not is_kept_range(function, node, above):
+                    found.append(node.lineno)
+    return sorted(found)
 
 
 class Language(unittest.TestCase):
@@ -173,10 +297,7 @@ class Language(unittest.TestCase):
         tables = {node.targets[0].id for _, tree in trees() for node in tree.body
                   if isinstance(node, ast.Assign) and isinstance(node.value, (ast.List, ast.Dict))}
         for name, tree in trees():
-            above = {}
-            for node in ast.walk(tree):
-                for child in ast.iter_child_nodes(node):
-                    above[child] = node
+            above = parents(tree)
             for node in ast.walk(tree):
                 if isinstance(node, ast.Name) and isinstance(node.ctx, ast.Load) and node.id in tables:
                     # An item, a test with in, or a method that reads; not an argument, and not another name.
@@ -185,6 +306,16 @@ class Language(unittest.TestCase):
                     read = read or isinstance(where, ast.Attribute) and where.attr in ("get", "items", "keys", "values")
                     read = read or isinstance(where, ast.Compare) and isinstance(where.ops[0], (ast.In, ast.NotIn))
                     self.assertTrue(read, (name, node.lineno, node.id))
+
+    def test_iterated_at_once(self):
+        for name, tree in trees():
+            self.assertEqual(handed_on(tree), [], (name, "is handed on"))
+
+    def test_what_is_handed_on(self):
+        for text in BAD_ROWS:
+            self.assertEqual(handed_on(ast.parse("def f(a, d, k):\n    " + text)), [2], text)
+        for text in GOOD_ROWS:
+            self.assertEqual(handed_on(ast.parse("def f(a, d, k):\n    " + text)), [], text)
 
     def test_words(self):
         for path in sources():
